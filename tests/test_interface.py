@@ -1,0 +1,87 @@
+import ast
+import importlib
+import inspect
+import unittest
+from pathlib import Path
+
+PACKAGE = Path(__file__).resolve().parent.parent / "whysheets"
+
+# The modules of the document's interface, in its order, each function with its parameters.
+INTERFACE = {
+    "errors": {},
+    "words": {"is_name": "thing", "sort_of": "word"},
+    "trees": {"is_expression": "thing", "is_cell": "thing", "is_sheet": "thing", "paths": "sheet",
+              "tree_at": "sheet path", "changed_at": "sheet path tree"},
+    "texts": {"words_of": "text", "read_sheet": "text", "read_cell": "text", "read_expression": "text",
+              "can_follow": "text", "sheet_text": "sheet", "cell_text": "cell", "expression_text": "expression"},
+    "places": {"reach_of": "text path", "path_at": "text line column"},
+    "alike": {"with_names": "sheet names", "is_like": "one other"},
+    "ends": {"shortest_end": "text"},
+    "names": {"reads": "sheet spot", "start_reads": "sheet name"},
+    "faults": {"faults": "sheet", "is_sound": "sheet"},
+    "kinds": {"kinds": "sheet", "kind_of": "sheet expression"},
+    "order": {"knots": "sheet", "knot_of": "sheet spot", "order_of": "sheet", "sources": "sheet spot",
+              "users": "sheet spot", "kept": "sheet names"},
+    "waists": {"waist": "sheet inputs spots", "ways_apart": "sheet inputs spots"},
+    "plain": {"worth": "sheet point spot", "worths": "sheet point", "expression_worth": "sheet point expression",
+              "open_spots": "sheet point", "why_open": "sheet point spot", "looked_at": "sheet point spot"},
+    "settling": {"rings": "sheet", "rounds": "sheet point cell", "settled": "sheet point cell"},
+    "boxes": {"is_box": "sheet thing", "whole": "sheet", "box_at": "sheet point", "points_in": "sheet box",
+              "is_inside": "sheet one other", "nearest_in": "sheet box point prices"},
+    "bounds": {"is_stretch": "thing", "allows": "stretch worth", "is_within": "one other", "hull": "stretches",
+               "stretch": "sheet box spot", "stretches": "sheet box", "expression_stretch": "sheet box expression",
+               "ring_stretches": "sheet box cell"},
+    "forks": {"is_order": "thing", "is_fork": "thing", "worth_at": "fork point", "fork_from": "order worths",
+              "worths_of": "fork"},
+    "joins": {"joined": "word forks", "mapped": "fork table other", "held": "fork part",
+              "put_in": "fork name inner", "over": "fork names word"},
+}
+
+
+def imports_of(name):
+    """The modules of the package from which a module imports."""
+    tree = ast.parse((PACKAGE / f"{name}.py").read_text())
+    return {node.module.split(".")[1] for node in ast.walk(tree) if isinstance(node, ast.ImportFrom)}
+
+
+def all_imports_of(name):
+    found = set()
+    waiting = [name]
+    while waiting:
+        for one in imports_of(waiting.pop()):
+            if one not in found:
+                found.add(one)
+                waiting.append(one)
+    return found
+
+
+class InterfaceTest(unittest.TestCase):
+    def test_names_and_parameters(self):
+        for module, functions in INTERFACE.items():
+            found = importlib.import_module(f"whysheets.{module}")
+            for name, parameters in functions.items():
+                function = getattr(found, name)
+                self.assertTrue(inspect.isfunction(function))
+                told = inspect.signature(function).parameters
+                self.assertEqual(list(told), parameters.split(), name)
+                for one in told.values():
+                    self.assertEqual((one.kind, one.default), (one.POSITIONAL_OR_KEYWORD, one.empty))
+
+    def test_each_is_defined_in_its_file(self):
+        for module, functions in INTERFACE.items():
+            tree = ast.parse((PACKAGE / f"{module}.py").read_text())
+            own = {node.name for node in tree.body if isinstance(node, ast.FunctionDef)}
+            self.assertTrue(set(functions) <= own, module)
+
+    def test_modules_import_from_those_ahead(self):
+        order = list(INTERFACE)
+        for k, module in enumerate(order):
+            behind = set(order[k:])
+            self.assertEqual(all_imports_of(module) & behind, set(), module)
+
+    def test_init_defines_nothing(self):
+        self.assertEqual(ast.parse((PACKAGE / "__init__.py").read_text()).body, [])
+
+
+if __name__ == "__main__":
+    unittest.main()
