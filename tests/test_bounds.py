@@ -1,6 +1,7 @@
 import unittest
 
 from tests.making import Maker, all_points, all_spots, odd_values
+from tests.reckoning import Spreader
 from tests.test_boxes import BAD_BOXES
 from tests.test_plain import FAULTY
 from tests.test_settling import GROWS, TURNS
@@ -266,6 +267,20 @@ class FactsTest(unittest.TestCase):
                 for point in points_in(sheet, box):
                     for spot, worth in worths(sheet, point).items():
                         self.assertTrue(allows(told[spot], worth), (spot, worth))
+
+    def test_against_another_reckoning(self):
+        widened = 0
+        for seed in range(200):
+            maker = Maker(seed)
+            sheet = maker.sheet(7, 3, 4, seed % 4 + 1)
+            for box in (maker.box(sheet), whole(sheet), box_at(sheet, all_points(sheet)[-1])):
+                spreader = Spreader(sheet, box)
+                self.assertEqual(stretches(sheet, box), {spot: spreader.stretch(spot) for spot in all_spots(sheet)})
+                for ring in rings(sheet):
+                    found = ring_stretches(sheet, box, ring[-1])
+                    self.assertEqual(found, spreader.turns[ring])
+                    widened += len(found) > 9
+        self.assertGreater(widened, 20)
 
     def test_inner_boxes(self):
         for seed in range(150):

@@ -46,6 +46,8 @@ class BoxTest(unittest.TestCase):
             maker = Maker(seed)
             sheet = maker.sheet(2, 3, 4)
             self.assertEqual(points_in(sheet, whole(sheet)), all_points(sheet))
+            self.assertEqual(list(whole(sheet)), sorted(one[1] for one in sheet[1]))
+            self.assertEqual(list(box_at(sheet, all_points(sheet)[0])), list(whole(sheet)))
             box, other = maker.box(sheet), maker.box(sheet)
             inside = [point for point in all_points(sheet) if all(point[name] in box[name] for name in box)]
             self.assertEqual(points_in(sheet, box), inside)

@@ -67,6 +67,9 @@ class ShortestEndTest(unittest.TestCase):
             shortest_end("input n from 2 to 1 from")
         error = caught.exception
         self.assertEqual((error.line, error.column, error.wanted), (1, 21, ("cell", "input", "row", "settle")))
+        for text in ("cell a = place", "cell a = r[place", "settle a from 0 to 1 start place", "row a of 1 = place cell b = place"):
+            with self.assertRaises(BadText):
+                shortest_end("input n from 0 to 1 " + text)
         with self.assertRaises(NoFit) as caught:
             shortest_end("input n from 2 to 1")
         error = caught.exception

@@ -83,6 +83,15 @@ class KindFaultsTest(Case):
         self.has("cell a = not n", ((2, 0, 2, 1), "kind", "truth"))
         self.has("cell a = if n then z else z", ((2, 0, 2, 1), "kind", "truth"))
 
+    def test_truths_and_numbers(self):
+        for text in ("n < m", "n <= m", "n == m", "not z", "z and z", "z or z", "if z then z else z", "cases n {1: z, else: z}"):
+            self.has(f"cell a = not ({text})")
+            self.has(f"cell a = n + ({text})", ((2, 0, 2, 2), "kind", "number"))
+        for text in ("n", "7", "n + m", "n - m", "n * m", "least(n, m)", "greatest(n, m)", "r[1]", "sum r", "fewest r", "most r",
+                     "if z then n else m", "cases n {1: n, else: m}"):
+            self.has(f"cell a = n + ({text})")
+            self.has(f"cell a = not ({text})", ((2, 0, 2, 1), "kind", "truth"))
+
     def test_the_kind_of_another_part_is_wanted(self):
         self.has("cell a = if z then z else n", ((2, 0, 2, 3), "kind", "truth"))
         self.has("cell a = if z then n else z", ((2, 0, 2, 3), "kind", "number"))
@@ -229,6 +238,12 @@ class AllFaultsTest(Case):
             self.assertIs(is_sound(sheet), not found)
         self.assertEqual(met, set(words) | {"round"} & met)
 
+    def test_against_each_rule(self):
+        for seed in range(600):
+            sheet = Maker(seed).wild_sheet(seed % 4 + 1)
+            found = [fault for fault in faults(sheet) if fault[1] != "round"]
+            self.assertEqual(found, Rules(sheet).faults())
+
     def test_the_order_of_cells_is_no_matter(self):
         for seed in range(40):
             maker = Maker(seed)
@@ -247,6 +262,73 @@ class AllFaultsTest(Case):
         self.assertEqual(faults(sheet=sheet), [((2, 0, 2), "unknown", "x")])
         self.assertIs(is_sound(sheet=sheet), False)
         self.assertIsNot(faults(sheet), faults(sheet))
+
+
+class Rules:
+    """The faults of names and kinds, told for each path by itself."""
+
+    TRUTHS = ("less", "atmost", "same", "not", "and", "or")
+
+    def __init__(self, sheet):
+        self.sheet = sheet
+        self.paths = paths(sheet)
+        self.firsts = {}
+        for thing in sheet[1] + sheet[2]:
+            self.firsts.setdefault(thing[1], thing)
+
+    def faults(self):
+        return [fault for path in self.paths for fault in self.faults_at(path)]
+
+    def sort(self, name):
+        return self.firsts[name][0] if name in self.firsts else None
+
+    def kind(self, e, seen=()):
+        if e[0] in self.TRUTHS:
+            return "truth"
+        if e[0] in ("choose", "cases", "at"):
+            return self.kind(e[2] if e[0] == "choose" else e[2][0][1] if e[0] == "cases" else e[3], seen)
+        if e[0] in ("name", "item") and (e[0], self.sort(e[1])) in (("name", "cell"), ("item", "row")):
+            return "number" if e[1] in seen else self.kind(self.firsts[e[1]][-1], seen + (e[1],))
+        return "number"
+
+    def faults_at(self, path):
+        tree = tree_at(self.sheet, path)
+        if len(path) == 2:
+            ahead = (self.sheet[1] + self.sheet[2])[:path[1] + (len(self.sheet[1]) if path[0] == 2 else 0)]
+            return [(path, "again", tree[1])] if tree[1] in [thing[1] for thing in ahead] else []
+        found = []
+        word = None
+        if tree[0] in ("name", "item", "at", "sum", "fewest", "most"):
+            sort = self.sort(tree[1])
+            if sort is None:
+                word = "unknown"
+            elif (sort == "row") != (tree[0] != "name"):
+                word = "sort"
+            elif tree[0] == "item" and tree[2] > self.firsts[tree[1]][2]:
+                word = "beyond"
+            elif tree[0] == "at" and self.kind(self.firsts[tree[1]][3]) != self.kind(tree[3]):
+                word = "other"
+            elif tree[0] in ("sum", "fewest", "most") and self.kind(self.firsts[tree[1]][3]) == "truth":
+                word = "other"
+        if word is not None:
+            found.append((path, word, tree[1]))
+        wanted = self.wanted(path)
+        if word not in ("unknown", "sort") and wanted not in (None, self.kind(tree)):
+            found.append((path, "kind", wanted))
+        return found
+
+    def wanted(self, path):
+        above = max([one for one in self.paths if len(one) < len(path) and path[:len(one)] == one], key=len)
+        upper, at = tree_at(self.sheet, above), path[len(above):]
+        if upper[0] in ("plus", "minus", "times", "least", "greatest", "less", "atmost", "same", "settle"):
+            return "number"
+        if upper[0] in ("not", "and", "or"):
+            return "truth"
+        if upper[0] == "choose":
+            return {1: "truth", 2: None, 3: self.kind(upper[2])}[at[0]]
+        if upper[0] == "cases":
+            return "number" if at == (1,) else None if at == (2, 0, 1) else self.kind(upper[2][0][1])
+        return None
 
 
 if __name__ == "__main__":

@@ -28,7 +28,9 @@ class KindsTest(unittest.TestCase):
     def test_kind_of(self):
         for text, kind in (("1", "number"), ("n", "number"), ("a", "truth"), ("t[2]", "truth"), ("r[2]", "number"),
                            ("if a then c else n < 1", "truth"), ("cases n {1: s, else: 2}", "number"), ("most r", "number"),
-                           ("not a", "truth"), ("a or b", "truth"), ("n == 1", "truth"), ("least(n, d)", "number")):
+                           ("not a", "truth"), ("a or b", "truth"), ("a and b", "truth"), ("n == 1", "truth"), ("n < 1", "truth"), ("n <= 1", "truth"),
+                           ("n + 1", "number"), ("n - 1", "number"), ("n * 1", "number"), ("greatest(n, d)", "number"),
+                           ("sum r", "number"), ("fewest r", "number"), ("least(n, d)", "number")):
             self.assertEqual(kind_of(SHEET, read_expression(text)), kind, text)
         self.assertEqual(kind_of(sheet=SHEET, expression=("name", "a")), "truth")
 

@@ -83,7 +83,8 @@ class ReachTest(unittest.TestCase):
                     self.assertIn(called, ("least", "greatest"))
 
     def test_errors_of_the_text_go_first(self):
-        for text, error in (("input", BadText), (5, BadText), ("input n from 2 to 1 cell a = 1", NoFit)):
+        for text, error in (("input", BadText), (5, BadText), ("input n from 2 to 1 cell a = 1", NoFit),
+                            ("input n from 0 to 1 cell a = place", BadText)):
             with self.assertRaises(error):
                 reach_of(text, None)
             with self.assertRaises(error):

@@ -169,6 +169,11 @@ class RefusedTest(Case):
         self.assertEqual(can_follow(TWO + "cell b = " + "(" * 11), ANY)
         self.assertEqual(can_follow(TWO + "cell b = " + "(" * 12 + "a)+"), T)
         self.assertEqual(can_follow(TWO + "cell b = " + "(" * 12 + "a+"), tuple(word for word in T if word != "("))
+        # Only those count that are not closed yet.
+        long = "(a) + " * 14
+        self.assertEqual(read_expression(long + "(" * 12 + "a" + ")" * 12), read_expression("a + " * 14 + "a"))
+        wanted = tuple(word for word in inner if word not in ("if", "not")) + ("place",)
+        self.refuses(read_expression, long + "(" * 12 + "a + (a)" + ")" * 12, 1, len(long) + 17, tuple(sorted(wanted)))
         # The parentheses of a least belong to no expression.
         deep = "least(" * 14 + "a" + ", b)" * 14
         self.assertEqual(expression_text(read_expression(deep)), deep)
@@ -257,8 +262,16 @@ class WriteTest(Case):
             self.assertEqual(expression_text(read_expression(text)), text)
 
     def test_cells(self):
-        for text in ("cell c = 1", "row r of 9 = place", "settle s from -1 to 10 start a or b = (s or c) + 1"):
+        for text in ("cell c = 1", "row r of 9 = place", "settle s from -1 to 10 start a or b = (s or c) + 1",
+                     "cell c = if a then b else c", "row r of 2 = if a then b else c",
+                     "settle s from 0 to 1 start if a then b else c = if b then a else c"):
             self.assertEqual(cell_text(read_cell(text)), text)
+
+    def test_where_no_parentheses_are_wanted(self):
+        one = "if a then b else c"
+        for text in (f"if {one} then {one} else {one}", f"least({one}, {one})", f"greatest({one}, {one})", f"x[place 1 else {one}]",
+                     f"cases {one} {{1: {one}, 2: {one}, else: {one}}}"):
+            self.assertEqual(expression_text(read_expression(text)), text)
 
     def test_sheet(self):
         text = "input n from 0 to 2\ninput m from -9 to 9\nrow r of 3 = r[place -1 else m] + n\ncell a = r[2] * n\n"

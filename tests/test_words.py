@@ -47,7 +47,7 @@ class SortTest(unittest.TestCase):
 
     def test_strange_words(self):
         for word in ("fork", "leaf", "007", "-0", "1000", "Abc", "a1", "abcdefghi", "$", "00", "-00", "-01", "-1000",
-                     "_", "a_", "1a", "-1a", "-1_", "-5A", ">", "!", "/", "~", "'", '"', ".", ";", "&", "IF"):
+                     "_", "a_", "1a", "-1a", "Z", "aZb", "ZZ", "AzZ", "-9Z", "z0", "a9b", "-1_", "-5A", ">", "!", "/", "~", "'", '"', ".", ";", "&", "IF"):
             self.assertEqual(sort_of(word), "strange", word)
 
     def test_each_character(self):
@@ -83,6 +83,13 @@ class WordsOfTest(unittest.TestCase):
         self.assertEqual(self.words("--5-"), ["-", "-5", "-"])
         self.assertEqual(self.words("-5ab_C9-"), ["-5ab_C9", "-"])
         self.assertEqual(self.words("a_1-_2"), ["a_1", "-", "_2"])
+
+    def test_letters_figures_and_low_lines(self):
+        inner = string.ascii_letters + string.digits + "_"
+        self.assertEqual(self.words(inner), [inner])
+        self.assertEqual(self.words("-5" + inner), ["-5" + inner])
+        for sign in map(chr, range(33, 127)):
+            self.assertEqual(self.words("a" + sign + " "), ["a" + sign] if sign in inner else ["a", sign])
 
     def test_pairs(self):
         self.assertEqual(self.words("a<=b==c<d=e"), ["a", "<=", "b", "==", "c", "<", "d", "=", "e"])

@@ -6,7 +6,7 @@ from whysheets.reading import check_fit, read_piece
 
 def shortest_end(text):
     """A shortest tuple of words with which a text is one of a sheet."""
-    reader = read_piece(text, "SHEET", False)
+    reader = read_piece(text, "SHEET")
     check_fit(reader)
     words = []
     low = None

@@ -80,5 +80,6 @@ def ways_of(flow, firsts):
 
 def onward(flow, k):
     """The place to which the way through a place goes on."""
-    ends = [end for end in flow.links[2 * k + 1] if end < flow.begin and end != 2 * k]
-    return [end // 2 for end in ends if flow.room[end][2 * k + 1] > 0][0]
+    ends = [end for end in flow.links[2 * k + 1] if flow.room[end][2 * k + 1] > 0]
+    # Within a place on a way no room is left, so what is found leads on to another one.
+    return ends[0] // 2

@@ -97,16 +97,13 @@ STARTS = {
 # The words that are held as they are read; the numbers differ in what fits.
 HELD = {"NAME": "name", "NUMBER": "figures", "HIGH": "figures", "COUNT": "figures", "PAIR": "figures"}
 
-# The shortest words that a piece can become, where these are not none at all.
+# The shortest words that a piece can become which may be awaited behind a word and cannot be left out.
 SHORTEST = {
     "SHEET": ("input", "a", "from", "0", "to", "0", "cell", "a", "=", "0"),
-    "INPUT": ("input", "a", "from", "0", "to", "0"),
     "CELL": ("cell", "a", "=", "0"),
     "E": ("0",),
-    "O": ("0",),
     "A": ("0",),
     "N": ("0",),
-    "C": ("0",),
     "S": ("0",),
     "P": ("0",),
     "T": ("0",),

@@ -46,7 +46,7 @@ def entries_of(text):
     """The pairs of a path and an entry of all inputs and cells of a text."""
     found = []
     counts = {1: 0, 2: 0}
-    for entry in read_whole(text, "SHEET", False):
+    for entry in read_whole(text, "SHEET"):
         group = 1 if entry[0][0] == "input" else 2
         found.append(((group, counts[group]), entry))
         counts[group] += 1

@@ -16,21 +16,22 @@ from whysheets.words import is_text, known_sort, split_words
 class Reader:
     """How far a text has been read: what is awaited, and what is held."""
 
-    def __init__(self, piece, in_row):
+    def __init__(self, piece):
         # What is awaited next stands last, each with the index of the word at which its rule began.
         self.awaited = [(piece, 0)]
         self.held = []
         self.taken = 0
         self.groups = 0
-        self.in_row = in_row
+        # An expression that is read by itself may be a row's.
+        self.in_row = piece == "E"
         self.misfit = None
 
 
-def read_piece(text, piece, in_row):
+def read_piece(text, piece):
     """A reader that has read all words of a text; BadText for the first one that cannot stand."""
     if not is_text(text):
         raise BadText(None, None, None)
-    reader = Reader(piece, in_row)
+    reader = Reader(piece)
     for word, line, column in split_words(text):
         sort = known_sort(word)
         wanted = wanted_by(reader)
@@ -40,9 +41,9 @@ def read_piece(text, piece, in_row):
     return reader
 
 
-def read_whole(text, piece, in_row):
+def read_whole(text, piece):
     """The entries of a text that is read to its end."""
-    reader = read_piece(text, piece, in_row)
+    reader = read_piece(text, piece)
     wanted = wanted_by(reader)
     if "end" not in wanted:
         line, column = place_behind(text)

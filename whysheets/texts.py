@@ -16,24 +16,24 @@ def words_of(text):
 
 def read_sheet(text):
     """The sheet that a text tells."""
-    things = [entry[0] for entry in read_whole(text, "SHEET", False)]
+    things = [entry[0] for entry in read_whole(text, "SHEET")]
     inputs = tuple([thing for thing in things if thing[0] == "input"])
     return ("sheet", inputs, tuple(things[len(inputs):]))
 
 
 def read_cell(text):
     """The cell that a text tells."""
-    return read_whole(text, "CELL", False)[0][0]
+    return read_whole(text, "CELL")[0][0]
 
 
 def read_expression(text):
     """The expression that a text tells."""
-    return read_whole(text, "E", True)[0][0]
+    return read_whole(text, "E")[0][0]
 
 
 def can_follow(text):
     """The sorts of words that can stand behind a text."""
-    return wanted_by(read_piece(text, "SHEET", False))
+    return wanted_by(read_piece(text, "SHEET"))
 
 
 def sheet_text(sheet):
