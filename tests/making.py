@@ -5,8 +5,11 @@ A Maker draws from a fixed sequence, so that each run tests the same things.
 
 from itertools import product
 
-from whysheets.names import reads, start_reads
+from tests.reckoning import Reckoner
 from whysheets.faults import is_sound
+from whysheets.forks import fork_from
+from whysheets.names import reads, start_reads
+from whysheets.written import as_sheet
 
 
 class Maker:
@@ -88,6 +91,11 @@ class Maker:
             sheet = ("sheet", tuple(told), tuple(self.shuffled(found)))
             if is_sound(sheet):
                 return sheet
+
+    def table_sheet(self, names=3, widest=3, most=2, open_in=10 ** 6):
+        """A sheet whose last cell, called out, has any worths at the points."""
+        order = self.order(names, widest)
+        return as_sheet(fork_from(order, self.worths(order, most, open_in)), "out")
 
     def some_cells(self, inputs, cells, settling):
         sight = Sight(inputs)
@@ -190,6 +198,26 @@ class Maker:
             found[name] = tuple(numbers or [self.one_of(box[name])])
         return found
 
+    def point(self, sheet):
+        return {name: self.number(low, high) for _, name, low, high in self.shuffled(sheet[1])}
+
+    def prices(self, sheet, most=3):
+        return {one[1]: self.number(1, most) for one in self.shuffled(sheet[1])}
+
+    def wish(self, sheet, spots=None):
+        """A wish for a spot of a cell, for worths that it has at some points more often than not."""
+        inputs = [one[1] for one in sheet[1]]
+        spot = self.one_of(spots or [one for one in all_spots(sheet) if one not in inputs])
+        worths = {Reckoner(sheet, self.point(sheet)).worth(spot) for _ in range(self.number(1, 3))}
+        if self.chance(4):
+            worths.add(self.one_of((None, 0, 1, 2, -1)))
+        return (spot, tuple(sorted(worths, key=worth_rank)), not self.chance(2))
+
+    def claim(self, sheet, wishes=2):
+        told = tuple(self.wish(sheet) for _ in range(self.number(1, wishes)))
+        far = (self.point(sheet), self.prices(sheet), self.number(0, 6)) if self.chance(2) else None
+        return (told, far)
+
     def order(self, names=3, widest=3):
         found = []
         for name in self.shuffled("xyzvw")[:names]:
@@ -283,3 +311,33 @@ def nested(deep):
     for _ in range(deep):
         thing = (thing,)
     return thing
+
+
+# Forks as dicts from the tuples of numbers of their points to worths.
+
+
+def worth_table(fork):
+    """The worths of a fork at all points of its order."""
+    nodes = fork[2]
+    lows = {name: low for name, low, _ in fork[1]}
+    names = [name for name, _, _ in fork[1]]
+    found = {}
+    for numbers in order_points(fork[1]):
+        point = dict(zip(names, numbers))
+        node = nodes[0]
+        while node[0] != "leaf":
+            node = nodes[node[1][point[node[0]] - lows[node[0]]]]
+        found[numbers] = node[1]
+    return found
+
+
+def named_point(order, numbers):
+    return dict(zip([name for name, _, _ in order], numbers))
+
+
+def names_in_order(order):
+    return [name for name, _, _ in order]
+
+
+def worth_rank(worth):
+    return (worth is None, worth or 0)

@@ -35,13 +35,28 @@ INTERFACE = {
               "worths_of": "fork"},
     "joins": {"joined": "word forks", "mapped": "fork table other", "held": "fork part",
               "put_in": "fork name inner", "over": "fork names word"},
+    "orders": {"reordered": "fork order", "exchanged": "fork at", "levels": "fork", "width": "fork ahead name",
+               "are_fair": "fork thing", "fewest": "fork"},
+    "counts": {"counted": "fork weights", "rank": "fork point", "ranked": "fork worth number"},
+    "partings": {"parting": "fork other", "nearest_parting": "fork other point prices", "idle": "fork",
+                 "untwin": "fork one other", "families": "fork"},
+    "making": {"fork_of": "sheet spot order", "same_worths": "sheet spot other second"},
+    "sways": {"sway": "fork", "shares": "fork base point"},
+    "bunches": {"apart": "fork names", "bunches": "fork"},
+    "written": {"as_expression": "fork", "as_sheet": "fork name", "normal_text": "sheet spot order name"},
+    "papers": {"breaks": "sheet point claim", "is_paper": "sheet thing", "leaf_boxes": "sheet box paper"},
+    "judge": {"judge": "sheet box claim paper", "pressed": "sheet box claim paper",
+              "restricted": "sheet box paper smaller"},
+    "finding": {"find": "sheet box claim", "worths_over": "sheet box spot", "fewest": "sheet box claim",
+                "shortest": "sheet box claim"},
 }
 
 
 def imports_of(name):
     """The modules of the package from which a module imports."""
     tree = ast.parse((PACKAGE / f"{name}.py").read_text())
-    return {node.module.split(".")[1] for node in ast.walk(tree) if isinstance(node, ast.ImportFrom)}
+    modules = [node.module for node in ast.walk(tree) if isinstance(node, ast.ImportFrom)]
+    return {module.split(".")[1] for module in modules if module.startswith("whysheets.")}
 
 
 def all_imports_of(name):

@@ -26,6 +26,8 @@ BUILTINS = {"len", "range", "enumerate", "zip", "min", "max", "sum", "abs", "sor
             "list", "tuple", "dict", "isinstance", "any", "all", "super", "ValueError"}
 METHODS = {"append", "count", "extend", "get", "index", "insert", "isupper", "items", "join", "keys", "pop", "remove",
            "rfind", "setdefault", "startswith", "update", "values"}
+# What may be imported from the library; it is only called.
+LIBRARY = {"math": ("factorial", "gcd")}
 UNUSED = {"register", "mro", "elements", "open", "input", "law", "version_info", "with_traceback", "add_note",
           "attrgetter", "breakpoint", "builtins", "compile", "copyright", "credits", "delattr", "dir", "eval", "exec",
           "exit", "gc", "getattr", "globals", "hasattr", "help", "id", "importlib", "license", "locals",
@@ -110,7 +112,8 @@ class LanguageTest(unittest.TestCase):
                 if isinstance(node, ast.ImportFrom):
                     names.extend([alias.name for alias in node.names])
                     self.assertEqual(node.level, 0)
-                    self.assertTrue(node.module.startswith("whysheets."))
+                    library = LIBRARY.get(node.module, ())
+                    self.assertTrue(node.module.startswith("whysheets.") or names[-1] in library)
                     self.assertTrue(all(alias.asname is None for alias in node.names))
                 elif isinstance(node, ast.Assign):
                     self.assertEqual([type(target) for target in node.targets], [ast.Name])
@@ -157,7 +160,7 @@ class LanguageTest(unittest.TestCase):
             steps[file.stem] = set()
             text = file.read_text()
             for node in ast.walk(tree):
-                if isinstance(node, ast.ImportFrom):
+                if isinstance(node, ast.ImportFrom) and node.module not in LIBRARY:
                     module = node.module.split(".")[1]
                     steps[file.stem].add(module)
                     for alias in node.names:

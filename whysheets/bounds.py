@@ -3,7 +3,7 @@
 from whysheets.boxes import want_box
 from whysheets.errors import BadStretch, BadStretches, BadWorth
 from whysheets.settling import ring_of
-from whysheets.stretching import Spread, allows_worth, hull_of, span
+from whysheets.stretching import allows_worth, hull_of, span, spread_over
 from whysheets.values import is_list, is_number, is_tuple_of, is_worth
 from whysheets.wanting import sound_frame, want_expression, want_spot
 
@@ -45,14 +45,14 @@ def stretch(sheet, box, spot):
     frame = sound_frame(sheet)
     want_box(frame, box)
     want_spot(frame, spot)
-    return Spread(frame, box).known[spot]
+    return spread_over(frame, box).known[spot]
 
 
 def stretches(sheet, box):
     """The dict from all spots to their stretches over a box."""
     frame = sound_frame(sheet)
     want_box(frame, box)
-    spread = Spread(frame, box)
+    spread = spread_over(frame, box)
     return {spot: spread.known[spot] for spot in frame.spots}
 
 
@@ -61,14 +61,14 @@ def expression_stretch(sheet, box, expression):
     frame = sound_frame(sheet)
     want_box(frame, box)
     want_expression(frame, expression)
-    return span(Spread(frame, box), expression, None)
+    return span(spread_over(frame, box), expression, None)
 
 
 def ring_stretches(sheet, box, cell):
     """The list of the tuples of stretches of a cell's ring, round by round."""
     frame = sound_frame(sheet)
     want_box(frame, box)
-    spread = Spread(frame, box)
+    spread = spread_over(frame, box)
     return spread.turns[ring_of(spread.knotting, cell)]
 
 

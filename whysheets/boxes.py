@@ -27,6 +27,11 @@ def box_at(sheet, point):
 def points_in(sheet, box):
     """The ascending list of all points in a box."""
     want_box(sound_frame(sheet), box)
+    return points_of(box)
+
+
+def points_of(box):
+    """The ascending list of all points in a box."""
     found = [{}]
     for name in sorted(box):
         found = [with_number(point, name, number) for point in found for number in box[name]]

@@ -3,7 +3,7 @@
 from whysheets.errors import BadFork, BadOrder, BadPoint, BadWorths, TooMany
 from whysheets.nodes import Store, count_points, size_at, stored, written
 from whysheets.values import is_list, is_number_from, is_tuple_of, is_worth
-from whysheets.wanting import is_point
+from whysheets.tallies import is_order_point
 from whysheets.words import is_name
 
 FARTHEST = 99
@@ -89,7 +89,7 @@ def meet(nodes, k, met):
 def worth_at(fork, point):
     """The worth of a fork at a point of its order."""
     want_fork(fork)
-    if not is_point([("input", name, low, high) for name, low, high in fork[1]], point):
+    if not is_order_point(fork[1], point):
         raise BadPoint("no point of the order")
     lows = {name: low for name, low, _ in fork[1]}
     node = fork[2][0]

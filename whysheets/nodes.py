@@ -55,6 +55,34 @@ class Store:
         return self.bodies[number][at] if self.levels[number] == level else number
 
 
+class Parts:
+    """What nodes of a store are with the number of a level held, each worked out once."""
+
+    def __init__(self, store):
+        self.store = store
+        self.made = {}
+
+    def part(self, number, level, at):
+        """The node that has the worths of a node with a level's number held at an index."""
+        store = self.store
+        if store.levels[number] >= level:
+            return store.child(number, level, at)
+        key = (number, level, at)
+        if key not in self.made:
+            children = [self.part(child, level, at) for child in store.bodies[number]]
+            self.made[key] = store.question(store.levels[number], tuple(children))
+        return self.made[key]
+
+    def all_parts(self, number, level):
+        """The list of what a node is with each number of a level."""
+        return [self.part(number, level, at) for at in range(size_at(self.store.order, level))]
+
+    def asks(self, number, level):
+        """Whether the worths of a node depend on a level."""
+        found = self.all_parts(number, level)
+        return any([one != found[0] for one in found])
+
+
 def size_at(order, level):
     """How many numbers the range at a level of an order has."""
     return order[level][2] - order[level][1] + 1

@@ -3,7 +3,7 @@
 from whysheets.errors import BadSpot, NotOpen
 from whysheets.frames import is_cell_spot, spot_key
 from whysheets.knotting import is_ring
-from whysheets.running import Run, settles, work
+from whysheets.running import run_through, settles, work
 from whysheets.wanting import sound_frame, want_expression, want_point, want_spot
 
 
@@ -12,7 +12,7 @@ def worth(sheet, point, spot):
     frame = sound_frame(sheet)
     want_point(frame, point)
     want_spot(frame, spot)
-    return Run(frame, point).known[spot]
+    return run_through(frame, point).known[spot]
 
 
 def worths(sheet, point):
@@ -26,7 +26,7 @@ def expression_worth(sheet, point, expression):
     frame = sound_frame(sheet)
     want_point(frame, point)
     want_expression(frame, expression)
-    return work(Run(frame, point), expression, None, {})
+    return work(run_through(frame, point), expression, None, {})
 
 
 def open_spots(sheet, point):
@@ -40,7 +40,7 @@ def why_open(sheet, point, spot):
     frame = sound_frame(sheet)
     want_point(frame, point)
     want_spot(frame, spot)
-    run = Run(frame, point)
+    run = run_through(frame, point)
     if run.known[spot] is not None:
         raise NotOpen("the worth is not open")
     ways = {spot: (spot,)}
@@ -61,14 +61,14 @@ def looked_at(sheet, point, spot):
     want_point(frame, point)
     if not is_cell_spot(frame, spot):
         raise BadSpot("no spot of a cell")
-    return tuple(looks_of(Run(frame, point), spot))
+    return tuple(looks_of(run_through(frame, point), spot))
 
 
 def run_at(sheet, point):
     """The worths of a sound sheet at a point, and how they came about."""
     frame = sound_frame(sheet)
     want_point(frame, point)
-    return Run(frame, point)
+    return run_through(frame, point)
 
 
 def looks_of(run, spot):

@@ -7,22 +7,34 @@ from whysheets.values import brought
 
 
 class Run:
-    """The worths of all spots at a point, and how they came about."""
+    """The worths of spots, as far as they are worked out, and how they came about."""
 
-    def __init__(self, frame, point):
-        self.frame = frame
-        self.knotting = Knotting(frame)
-        self.known = {name: point[name] for name in point}
+    def __init__(self, knotting, known):
+        self.frame = knotting.frame
+        self.knotting = knotting
+        self.known = known
         # For each knot the dict of the spots that its worth looks at.
         self.looks = {}
         # For each ring the list of the tuples of its worths, round by round.
         self.turns = {}
-        for knot in ordered(self.knotting):
-            self.looks[knot] = {}
-            if is_ring(knot):
-                finish_ring(self, knot)
-            else:
-                self.known[knot] = spot_worth(self, knot)
+
+
+def run_through(frame, point):
+    """The run with the worths of all spots at a point."""
+    knotting = Knotting(frame)
+    run = Run(knotting, {name: point[name] for name in point})
+    for knot in ordered(knotting):
+        finish(run, knot)
+    return run
+
+
+def finish(run, knot):
+    """Works out a knot, for which all that it reads is known."""
+    run.looks[knot] = {}
+    if is_ring(knot):
+        finish_ring(run, knot)
+    else:
+        run.known[knot] = spot_worth(run, knot)
 
 
 def spot_worth(run, spot):

@@ -2,7 +2,7 @@
 
 from whysheets.errors import NoRing
 from whysheets.knotting import Knotting, is_ring
-from whysheets.running import Run
+from whysheets.running import run_through
 from whysheets.wanting import sound_frame, want_point
 
 
@@ -15,7 +15,7 @@ def rounds(sheet, point, cell):
     """The list of the tuples of worths of a cell's ring, round by round."""
     frame = sound_frame(sheet)
     want_point(frame, point)
-    run = Run(frame, point)
+    run = run_through(frame, point)
     return run.turns[ring_of(run.knotting, cell)]
 
 

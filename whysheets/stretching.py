@@ -13,19 +13,36 @@ ROUNDS = 8
 
 
 class Spread:
-    """The stretches of all spots over a box, and how they came about."""
+    """The stretches of spots, as far as they are worked out, and how they came about."""
 
-    def __init__(self, frame, box):
-        self.frame = frame
-        self.knotting = Knotting(frame)
-        self.known = {name: (box[name][0], box[name][-1], False) for name in box}
+    def __init__(self, knotting, known):
+        self.frame = knotting.frame
+        self.knotting = knotting
+        self.known = known
         # For each ring the list of the tuples of its stretches, round by round.
         self.turns = {}
-        for knot in ordered(self.knotting):
-            if is_ring(knot):
-                finish_ring(self, knot)
-            else:
-                self.known[knot] = spot_stretch(self, knot)
+
+
+def spread_over(frame, box):
+    """The spread with the stretches of all spots over a box."""
+    knotting = Knotting(frame)
+    spread = Spread(knotting, input_stretches(box))
+    for knot in ordered(knotting):
+        finish_spread(spread, knot)
+    return spread
+
+
+def input_stretches(box):
+    """The dict from all inputs to their stretches over a box."""
+    return {name: (box[name][0], box[name][-1], False) for name in box}
+
+
+def finish_spread(spread, knot):
+    """Works out a knot, for which all that it reads is known."""
+    if is_ring(knot):
+        finish_ring(spread, knot)
+    else:
+        spread.known[knot] = spot_stretch(spread, knot)
 
 
 def spot_stretch(spread, spot):

@@ -16,6 +16,11 @@ def is_worth(thing):
     return thing is None or is_number(thing)
 
 
+def worth_key(worth):
+    """What brings worths into order: numbers ascending, None behind them."""
+    return (1, 0) if worth is None else (0, worth)
+
+
 def is_list(thing):
     """Whether any value can stand where a list is expected."""
     return isinstance(thing, (list, tuple))
