@@ -49,6 +49,29 @@ INTERFACE = {
               "restricted": "sheet box paper smaller"},
     "finding": {"find": "sheet box claim", "worths_over": "sheet box spot", "fewest": "sheet box claim",
                 "shortest": "sheet box claim"},
+    "turns": {"moves": "sheet point", "behind": "sheet point lot", "way_to": "sheet point other",
+              "is_turn": "sheet point wishes thing", "shuts": "sheet point wishes thing",
+              "box_beside": "sheet point lot", "wall_of": "sheet point box",
+              "turn_within": "sheet point wishes lot", "wall_within": "sheet point wishes lot"},
+    "shown": {"walls_by_move": "sheet point wishes lot", "turns_by_move": "sheet point wishes lot",
+              "is_turn_shown": "sheet point wishes lot thing", "is_shut_shown": "sheet point wishes lot thing"},
+    "mirrors": {"mirror": "sheet point wishes most", "mirror_tree": "sheet point wishes most",
+                "is_mirror_tree": "sheet point turns walls thing", "idle_moves": "sheet point wishes",
+                "roomiest": "sheet point wishes most"},
+    "nearest": {"price": "sheet point prices lot", "nearest": "sheet point wishes prices",
+                "nearest_many": "sheet point wishes prices many", "ladder": "sheet spot point prices"},
+    "schemes": {"is_scheme": "sheet box spot thing", "trail": "sheet box spot scheme point",
+                "worst_price": "sheet box spot prices sides scheme"},
+    "asking": {"best_scheme": "sheet box spot prices sides"},
+    "opponents": {"is_opponent": "sheet box spot prices sides price thing", "opponent": "sheet box spot prices sides"},
+    "grounds": {"cheapest_grounds": "sheet point spot prices"},
+    "inquiry": {},
+}
+# The classes of the interface, each with its methods.
+CLASSES = {
+    "inquiry": {"Inquiry": {"__init__": "sheet spot prices sides", "ask": "question answer", "undo": "", "box": "",
+                            "told": "", "spent": "", "left": "", "cost": "question", "next_question": "",
+                            "is_known": "", "worth": ""}},
 }
 
 
@@ -87,6 +110,18 @@ class InterfaceTest(unittest.TestCase):
             tree = ast.parse((PACKAGE / f"{module}.py").read_text())
             own = {node.name for node in tree.body if isinstance(node, ast.FunctionDef)}
             self.assertTrue(set(functions) <= own, module)
+
+    def test_classes_and_methods(self):
+        for module, classes in CLASSES.items():
+            found = importlib.import_module(f"whysheets.{module}")
+            for name, methods in classes.items():
+                own = vars(getattr(found, name))
+                self.assertEqual(getattr(found, name).__module__, f"whysheets.{module}")
+                for method, parameters in methods.items():
+                    told = inspect.signature(own[method]).parameters
+                    self.assertEqual(list(told), ["self"] + parameters.split(), method)
+                    for one in told.values():
+                        self.assertEqual((one.kind, one.default), (one.POSITIONAL_OR_KEYWORD, one.empty))
 
     def test_modules_import_from_those_ahead(self):
         order = list(INTERFACE)

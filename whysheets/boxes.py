@@ -13,8 +13,12 @@ def is_box(sheet, thing):
 
 def whole(sheet):
     """The box of all points of a sheet."""
-    inputs = by_name(sound_frame(sheet))
-    return {name: tuple(range(low, high + 1)) for _, name, low, high in inputs}
+    return whole_of(sound_frame(sheet))
+
+
+def whole_of(frame):
+    """The box of all points of the sheet of a frame."""
+    return {name: tuple(range(low, high + 1)) for _, name, low, high in by_name(frame)}
 
 
 def box_at(sheet, point):
@@ -51,8 +55,7 @@ def nearest_in(sheet, box, point, prices):
     frame = sound_frame(sheet)
     want_box(frame, box)
     want_point(frame, point)
-    if not are_prices(frame.sheet[1], prices):
-        raise BadPrices("no prices of the inputs")
+    want_prices(frame, prices)
     price = 0
     found = {}
     for name in sorted(box):
@@ -98,3 +101,9 @@ def are_numbers(thing, low, high):
 def are_prices(inputs, thing):
     """Whether any value is a dict from the names of all inputs to numbers from 1 to 999."""
     return is_point([(one[0], one[1], 1, 999) for one in inputs], thing)
+
+
+def want_prices(frame, prices):
+    """Raises BadPrices for what are no prices."""
+    if not are_prices(frame.sheet[1], prices):
+        raise BadPrices("no prices of the inputs")

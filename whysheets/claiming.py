@@ -74,12 +74,11 @@ def least_dear(point, prices, box):
 class Case:
     """A claim with the worths and the stretches of the spots of its wishes."""
 
-    def __init__(self, frame, claim):
+    def __init__(self, claim, table, spans):
         self.wishes = claim[0]
         self.far = claim[1]
-        spots = tuple([wish[0] for wish in claim[0]])
-        self.table = Table(frame, spots)
-        self.spans = SpanTable(frame, spots)
+        self.table = table
+        self.spans = spans
 
     def breaks_at(self, point):
         """Whether a point breaks the claim."""
@@ -98,3 +97,9 @@ class Case:
         if any([len(box[name]) > 1 for name in box]):
             return False
         return not self.breaks_at({name: box[name][0] for name in box})
+
+
+def case_of(frame, claim):
+    """The case of a claim."""
+    spots = tuple([wish[0] for wish in claim[0]])
+    return Case(claim, Table(frame, spots), SpanTable(frame, spots))

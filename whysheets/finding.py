@@ -1,7 +1,7 @@
 """Papers for claims, or points that break them; the shortest papers of cuts."""
 
 from whysheets.boxes import points_of, want_box
-from whysheets.claiming import Case, want_claim
+from whysheets.claiming import case_of, want_claim
 from whysheets.errors import TooMany
 from whysheets.searching import breaking_point, paper_over
 from whysheets.tables import Table
@@ -13,17 +13,17 @@ MOST_BOXES = 3000
 
 def find(sheet, box, claim):
     """A right paper for a claim over a box, or the least point in the box that breaks it."""
-    case = case_of(sheet, box, claim)
+    case = case_over(sheet, box, claim)
     point = breaking_point(case, box)
     return ("paper", paper_over(case, box)) if point is None else ("point", point)
 
 
-def case_of(sheet, box, claim):
+def case_over(sheet, box, claim):
     """The case of a claim over a box."""
     frame = sound_frame(sheet)
     want_box(frame, box)
     want_claim(frame, claim)
-    return Case(frame, claim)
+    return case_of(frame, claim)
 
 
 def worths_over(sheet, box, spot):
@@ -54,7 +54,7 @@ def shortest(sheet, box, claim):
 
 def cutting_of(sheet, box, claim):
     """The cutting of a box for a claim; None if a point breaks the claim."""
-    case = case_of(sheet, box, claim)
+    case = case_over(sheet, box, claim)
     many = 1
     for name in box:
         many = many * len(box[name]) * (len(box[name]) + 1) // 2

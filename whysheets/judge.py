@@ -1,7 +1,7 @@
 """The judge of papers: it knows no search and no forks, only stretches and splits."""
 
 from whysheets.boxes import is_box_of, want_box
-from whysheets.claiming import Case, want_claim
+from whysheets.claiming import case_of, want_claim
 from whysheets.errors import BadBox, Wrong
 from whysheets.papering import is_right_split, part_boxes, want_paper
 from whysheets.papers import add_leaves
@@ -14,7 +14,7 @@ def judge(sheet, box, claim, paper):
     want_box(frame, box)
     want_claim(frame, claim)
     want_paper(frame, paper)
-    return first_wrong(Case(frame, claim), box, paper, ())
+    return first_wrong(case_of(frame, claim), box, paper, ())
 
 
 def first_wrong(case, box, paper, path):
@@ -37,7 +37,7 @@ def pressed(sheet, box, claim, paper):
     want_box(frame, box)
     want_claim(frame, claim)
     want_paper(frame, paper)
-    case = Case(frame, claim)
+    case = case_of(frame, claim)
     found = first_wrong(case, box, paper, ())
     if found is not None:
         raise Wrong(found[0], found[1])

@@ -87,13 +87,13 @@ class Widths:
         parts = Parts(store)
         behind = {(): [stored(store, fork)]}
         for lot in self.lots:
-            for name in self.left(lot):
+            for name in self.names_beside(lot):
                 level = level_of(fork[1], name)
                 self.told[(lot, name)] = count_asking(parts, behind[lot], level)
                 if with_name(lot, name) not in behind:
                     behind[with_name(lot, name)] = parts_of_all(parts, behind[lot], level)
 
-    def left(self, lot):
+    def names_beside(self, lot):
         """The ascending list of the names that are not in a lot."""
         return [name for name in self.names if name not in lot]
 
@@ -140,7 +140,7 @@ def greatest_prices(widths):
     """The greatest fair set prices: of each lot the fewest questions with just its names ahead."""
     found = {(): 0}
     for lot in widths.lots:
-        for name in widths.left(lot):
+        for name in widths.names_beside(lot):
             bigger = with_name(lot, name)
             price = found[lot] + widths.told[(lot, name)]
             found[bigger] = min(price, found.get(bigger, price))
@@ -152,12 +152,12 @@ def first_order(widths):
     rest = {tuple(widths.names): 0}
     for k in range(len(widths.lots) - 2, -1, -1):
         lot = widths.lots[k]
-        rest[lot] = min([price_of_next(widths, rest, lot, name) for name in widths.left(lot)])
+        rest[lot] = min([price_of_next(widths, rest, lot, name) for name in widths.names_beside(lot)])
     found = []
     lot = ()
     while len(found) < len(widths.names):
-        prices = [price_of_next(widths, rest, lot, name) for name in widths.left(lot)]
-        found.append(widths.left(lot)[prices.index(min(prices))])
+        prices = [price_of_next(widths, rest, lot, name) for name in widths.names_beside(lot)]
+        found.append(widths.names_beside(lot)[prices.index(min(prices))])
         lot = with_name(lot, found[-1])
     return found
 

@@ -1,7 +1,7 @@
 """Papers that show claims, and what breaks a claim."""
 
 from whysheets.boxes import want_box
-from whysheets.claiming import Case, want_claim
+from whysheets.claiming import case_of, want_claim
 from whysheets.errors import BadSplit
 from whysheets.papering import DEEPEST, has_paper_form, is_right_split, part_boxes, want_paper
 from whysheets.wanting import sound_frame, want_point
@@ -12,7 +12,7 @@ def breaks(sheet, point, claim):
     frame = sound_frame(sheet)
     want_point(frame, point)
     want_claim(frame, claim)
-    return Case(frame, claim).breaks_at(point)
+    return case_of(frame, claim).breaks_at(point)
 
 
 def is_paper(sheet, thing):

@@ -1,10 +1,10 @@
 """The worths of a sheet at a point."""
 
-from whysheets.errors import BadSpot, NotOpen
-from whysheets.frames import is_cell_spot, spot_key
+from whysheets.errors import NotOpen
+from whysheets.frames import spot_key
 from whysheets.knotting import is_ring
 from whysheets.running import run_through, settles, work
-from whysheets.wanting import sound_frame, want_expression, want_point, want_spot
+from whysheets.wanting import sound_frame, want_cell_spot, want_expression, want_point, want_spot
 
 
 def worth(sheet, point, spot):
@@ -59,8 +59,7 @@ def looked_at(sheet, point, spot):
     """The tuple of the spots at which the worth of a cell spot directly looks at a point."""
     frame = sound_frame(sheet)
     want_point(frame, point)
-    if not is_cell_spot(frame, spot):
-        raise BadSpot("no spot of a cell")
+    want_cell_spot(frame, spot)
     return tuple(looks_of(run_through(frame, point), spot))
 
 

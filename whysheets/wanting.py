@@ -2,7 +2,7 @@
 
 from whysheets.errors import BadExpression, BadPoint, BadSheet, BadSpot, Faulty
 from whysheets.faults import faults_of
-from whysheets.frames import Frame, is_spot
+from whysheets.frames import Frame, is_cell_spot, is_spot
 from whysheets.kinding import whole_faults
 from whysheets.trees import is_sheet, is_whole
 from whysheets.values import is_number_from
@@ -23,6 +23,12 @@ def want_spot(frame, spot):
     """Raises BadSpot for what is no spot."""
     if not is_spot(frame, spot):
         raise BadSpot("no spot of the sheet")
+
+
+def want_cell_spot(frame, spot):
+    """Raises BadSpot for what is no spot of a cell."""
+    if not is_cell_spot(frame, spot):
+        raise BadSpot("no spot of a cell")
 
 
 def want_point(frame, point):
