@@ -143,7 +143,7 @@ class LeafBoxesTest(unittest.TestCase):
                 self.assertEqual(caught.exception.path, wrong[0])
             else:
                 self.assertEqual(leaf_boxes(sheet, box, paper), leaves)
-        self.assertGreater(met, 20)
+        self.assertGreater(met, 10)
 
     def test_errors(self):
         box = whole(SHEET)

@@ -122,7 +122,7 @@ cell d = cases b {1: c, else: e}
             self.assertEqual(len(sheet[2]), max(1, len(asking)) + opened)
             names = [cell[1] for cell in sheet[2]]
             self.assertEqual(names[-1], name)
-            self.assertEqual(names[:-1], sorted(names[:-1]))
+            self.assertEqual(names[:-1], sorted(names[:-1], key=lambda one: (len(one), one)))
             questions = [("name", node[0]) for node in asking]
             if asking:
                 self.assertEqual([cell[2][1] for cell in sheet[2][opened:]], questions[::-1])

@@ -1,20 +1,14 @@
 """The price of asking, and schemes that have it."""
 
-from whysheets.boxes import want_box, want_prices, with_number
+from whysheets.boxes import with_number
 from whysheets.costing import Asking
-from whysheets.questioning import want_sides
+from whysheets.questioning import wanted_frame
 from whysheets.scheming import Known
-from whysheets.wanting import sound_frame, want_cell_spot
 
 
 def best_scheme(sheet, box, spot, prices, sides):
     """The price of asking for a spot over a box, and a scheme that has it."""
-    frame = sound_frame(sheet)
-    want_box(frame, box)
-    want_cell_spot(frame, spot)
-    want_prices(frame, prices)
-    want_sides(frame, sides)
-    known = Known(frame, spot)
+    known = Known(wanted_frame(sheet, box, spot, prices, sides), spot)
     asking = Asking(known.table, box, prices, sides)
     return asking.asking_price(asking.first), scheme_for(known, asking, box, asking.first)
 

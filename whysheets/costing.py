@@ -8,6 +8,7 @@ a node does not ask for would be asked in vain.
 
 from whysheets.growing import grown_at_spot
 from whysheets.nodes import Store
+from whysheets.questioning import answers_of
 
 
 class Narrowing:
@@ -107,6 +108,6 @@ class Asking:
         """The list of the nodes behind the answers of a question over a box with this node."""
         level = self.names.index(question[1])
         if level not in self.narrowing.sizes(number):
-            return [number]
+            return [number for _ in answers_of(box, question)]
         many = 0 if question[0] == "number" else box[question[1]].index(question[2]) + 1
         return self.parts(number, level, many)

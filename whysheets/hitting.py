@@ -14,7 +14,7 @@ class Hitting:
 
     def grow(self, chosen, barred):
         """Finds the least lots that have the chosen bits and none of the barred ones."""
-        open_bits = [bits_in(lot & ~barred) for lot in self.lots if lot & chosen == 0]
+        open_bits = [bits_in(lot & ~barred) for lot in self.lots if (lot & chosen) == 0]
         if not open_bits:
             self.found.append(chosen)
             return
@@ -29,7 +29,7 @@ class Hitting:
         alone = 0
         for lot in self.lots:
             met = lot & chosen
-            if met & (met - 1) == 0:
+            if (met & (met - 1)) == 0:
                 alone = alone | met
         return alone == chosen
 
@@ -57,5 +57,5 @@ def least_hits(lots, most):
     hitting.grow(0, 0)
     found = []
     for chosen in hitting.found:
-        found.append(tuple([move for move in moves if known[move] & chosen > 0]))
+        found.append(tuple([move for move in moves if (known[move] & chosen) > 0]))
     return sorted(found)

@@ -1,12 +1,10 @@
 """Opponents: how to answer so that a worth stays unknown until a price is paid."""
 
-from whysheets.boxes import want_box, want_prices
 from whysheets.costing import Asking
 from whysheets.errors import BadPrice
-from whysheets.questioning import all_questions, answers_of, box_behind, question_price, want_sides
+from whysheets.questioning import all_questions, answers_of, box_behind, question_price, wanted_frame
 from whysheets.tables import Table
 from whysheets.values import is_number, is_rising, is_tuple_of
-from whysheets.wanting import sound_frame, want_cell_spot
 
 
 def is_opponent(sheet, box, spot, prices, sides, price, thing):
@@ -23,16 +21,6 @@ def is_opponent(sheet, box, spot, prices, sides, price, thing):
     if not all([does_hold(bounds, sorted(box), entry, prices, sides) for entry in thing]):
         return False
     return price == 0 or bounds.get(rows_of(box), 0) >= price
-
-
-def wanted_frame(sheet, box, spot, prices, sides):
-    """The frame of a sheet; BadSheet, Faulty, BadBox, BadSpot, BadPrices, BadSides."""
-    frame = sound_frame(sheet)
-    want_box(frame, box)
-    want_cell_spot(frame, spot)
-    want_prices(frame, prices)
-    want_sides(frame, sides)
-    return frame
 
 
 def rows_of(box):
@@ -52,8 +40,13 @@ def is_entry(table, box, thing):
     for written in (one, other):
         if not is_tuple_of(written, len(rows)) or not all([are_some((written[k],), row) for k, row in enumerate(rows)]):
             return False
-    points = [{name: written[k] for k, name in enumerate(sorted(box))} for written in (one, other)]
-    return table.worths_at(points[0]) != table.worths_at(points[1])
+    names = sorted(box)
+    return table.worths_at(named(names, one)) != table.worths_at(named(names, other))
+
+
+def named(names, things):
+    """The dict from names to the things of a written box or point."""
+    return {name: things[k] for k, name in enumerate(names)}
 
 
 def are_some(thing, numbers):
@@ -65,7 +58,7 @@ def are_some(thing, numbers):
 
 def does_hold(bounds, names, entry, prices, sides):
     """Whether each question that costs less than an entry's bound has an answer behind which the bound is held."""
-    box = {name: entry[0][k] for k, name in enumerate(names)}
+    box = named(names, entry[0])
     for question in all_questions(box, sides is not None):
         left = entry[1] - question_price(question, prices, sides)
         rows = [rows_of(box_behind(box, question, answer)) for answer in answers_of(box, question)]
@@ -113,7 +106,7 @@ class Holding:
 
     def answer_all(self, rows, bound, number):
         """Asks for an entry behind the dearest answer of each question that costs less than a bound."""
-        box = {name: rows[k] for k, name in enumerate(self.asking.names)}
+        box = named(self.asking.names, rows)
         for question in all_questions(box, self.sides is not None):
             left = bound - question_price(question, self.prices, self.sides)
             if left > 0:

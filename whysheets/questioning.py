@@ -1,8 +1,9 @@
 """Questions about a point of a box, and their answers."""
 
-from whysheets.boxes import are_prices, with_number
+from whysheets.boxes import are_prices, want_box, want_prices, with_number
 from whysheets.errors import BadSides
 from whysheets.values import is_number
+from whysheets.wanting import sound_frame, want_cell_spot
 
 NUMBER = "number"
 ATMOST = "atmost"
@@ -67,3 +68,13 @@ def want_sides(frame, sides):
     """Raises BadSides for what is neither None nor prices."""
     if sides is not None and not are_prices(frame.sheet[1], sides):
         raise BadSides("neither None nor prices of the inputs")
+
+
+def wanted_frame(sheet, box, spot, prices, sides):
+    """The frame of a sheet; BadSheet, Faulty, BadBox, BadSpot, BadPrices, BadSides."""
+    frame = sound_frame(sheet)
+    want_box(frame, box)
+    want_cell_spot(frame, spot)
+    want_prices(frame, prices)
+    want_sides(frame, sides)
+    return frame
