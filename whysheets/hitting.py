@@ -53,7 +53,7 @@ def least_hits(lots, most):
     moves = sorted(known)
     for k, move in enumerate(moves):
         known[move] = 1 << k
-    hitting = Hitting([sum([known[move] for move in lot]) for lot in lots], most)
+    hitting = Hitting([sum([known[one] for one in lot]) for lot in lots], most)
     hitting.grow(0, 0)
     found = []
     for chosen in hitting.found:

@@ -45,7 +45,7 @@ def is_right_split(name, parts, box):
     for numbers, _ in parts:
         if not all([number in own for number in numbers]) or len(numbers) == len(own):
             return False
-    return all([any([number in numbers for numbers, _ in parts]) for number in own])
+    return all([any([number in part[0] for part in parts]) for number in own])
 
 
 def part_boxes(box, name, parts):
