@@ -17,7 +17,7 @@ class Narrowing:
     def __init__(self, store):
         self.store = store
         self.made = {}
-        self.told = {}
+        self.known = {}
 
     def narrowed(self, number, level, begin, end):
         """The node that a node is with the numbers of a level from an index to another one."""
@@ -36,14 +36,14 @@ class Narrowing:
 
     def sizes(self, number):
         """The dict from the levels for which a node or one behind it asks to how many numbers they have."""
-        if number not in self.told:
+        if number not in self.known:
             found = {}
             if not self.store.is_leaf(number):
                 for child in self.store.bodies[number]:
                     found.update(self.sizes(child))
                 found[self.store.levels[number]] = len(self.store.bodies[number])
-            self.told[number] = found
-        return self.told[number]
+            self.known[number] = found
+        return self.known[number]
 
 
 class Asking:

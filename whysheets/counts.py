@@ -14,7 +14,7 @@ def counted(fork, weights):
         raise BadWeights("no dict from all names to tuples of numbers")
     store = Store(fork[1])
     tally = Tally(store, [weights[triple[0]] for triple in fork[1]])
-    found = tally.counts(stored(store, fork), 0)
+    found = tally.counts_behind(stored(store, fork), 0)
     return {worth: found[worth] for worth in sorted(found, key=worth_key)}
 
 
@@ -34,7 +34,7 @@ def rank(fork, point):
     total = 0
     for level, (name, low, _) in enumerate(fork[1]):
         for at in range(point[name] - low):
-            total += tally.counts(store.child(row[level], level, at), level + 1).get(worth, 0)
+            total += tally.counts_behind(store.child(row[level], level, at), level + 1).get(worth, 0)
     return total
 
 
@@ -44,7 +44,7 @@ def ranked(fork, worth, number):
     store = Store(fork[1])
     here = stored(store, fork)
     tally = plain_tally(store)
-    counts = tally.counts(here, 0)
+    counts = tally.counts_behind(here, 0)
     if not is_worth(worth) or worth not in counts:
         raise BadWorth("no worth of a leaf")
     if not is_number_from(number, 0, counts[worth] - 1):
@@ -53,11 +53,11 @@ def ranked(fork, worth, number):
     indexes = []
     for level in range(len(fork[1])):
         at = 0
-        count = tally.counts(store.child(here, level, at), level + 1).get(worth, 0)
+        count = tally.counts_behind(store.child(here, level, at), level + 1).get(worth, 0)
         while count <= left:
             left -= count
             at += 1
-            count = tally.counts(store.child(here, level, at), level + 1).get(worth, 0)
+            count = tally.counts_behind(store.child(here, level, at), level + 1).get(worth, 0)
         indexes.append(at)
         here = store.child(here, level, at)
     return order_point(fork[1], indexes)

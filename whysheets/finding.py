@@ -71,14 +71,14 @@ class Cutting:
 
     def __init__(self, case, box):
         self.case = case
-        self.box = box
+        self.whole = box
         self.names = sorted(box)
         # For each box the fewest leaves, and a word, or the index of an input and how many numbers the first part has.
         self.made = {}
 
     def all_numbers(self):
         """The rows of the whole box."""
-        return tuple([self.box[name] for name in self.names])
+        return tuple([self.whole[name] for name in self.names])
 
     def leaves(self, rows):
         """The fewest leaves of a right paper for a box."""

@@ -82,14 +82,14 @@ class Widths:
     def __init__(self, fork):
         self.names = names_of(fork)
         self.lots = subsets(self.names)
-        self.told = {}
+        self.table = {}
         store = Store(fork[1])
         parts = Parts(store)
         behind = {(): [stored(store, fork)]}
         for lot in self.lots:
             for name in self.names_beside(lot):
                 level = level_of(fork[1], name)
-                self.told[(lot, name)] = count_asking(parts, behind[lot], level)
+                self.table[(lot, name)] = count_asking(parts, behind[lot], level)
                 if with_name(lot, name) not in behind:
                     behind[with_name(lot, name)] = parts_of_all(parts, behind[lot], level)
 
@@ -120,8 +120,8 @@ def are_fair(fork, thing):
     if not all([is_number(price) for price in list(thing.values())]) or thing[()] != 0:
         return False
     widths = Widths(fork)
-    for lot, name in widths.told:
-        if thing[with_name(lot, name)] > thing[lot] + widths.told[(lot, name)]:
+    for lot, name in widths.table:
+        if thing[with_name(lot, name)] > thing[lot] + widths.table[(lot, name)]:
             return False
     return True
 
@@ -142,7 +142,7 @@ def greatest_prices(widths):
     for lot in widths.lots:
         for name in widths.names_beside(lot):
             bigger = with_name(lot, name)
-            price = found[lot] + widths.told[(lot, name)]
+            price = found[lot] + widths.table[(lot, name)]
             found[bigger] = min(price, found.get(bigger, price))
     return found
 
@@ -164,4 +164,4 @@ def first_order(widths):
 
 def price_of_next(widths, rest, lot, name):
     """The fewest questions behind a lot if a name comes next."""
-    return widths.told[(lot, name)] + rest[with_name(lot, name)]
+    return widths.table[(lot, name)] + rest[with_name(lot, name)]

@@ -52,7 +52,7 @@ def nearest_parting(fork, other, point, prices):
     if one == other:
         return None
     search = Nearest(store, point, prices)
-    return search.price(one, other, 0), search.point(one, other)
+    return search.least_price(one, other, 0), search.least_point(one, other)
 
 
 def are_order_prices(order, thing):
@@ -71,7 +71,7 @@ class Nearest:
         self.prices = prices
         self.made = {}
 
-    def price(self, one, other, level):
+    def least_price(self, one, other, level):
         """The least price, from a level on, at which two different nodes differ."""
         if level == len(self.store.order):
             return 0
@@ -91,14 +91,14 @@ class Nearest:
                 found.append(None)
             else:
                 own = self.prices[name] * abs(low + at - self.begin[name])
-                found.append(own + self.price(first, second, level + 1))
+                found.append(own + self.least_price(first, second, level + 1))
         return found
 
-    def point(self, one, other):
+    def least_point(self, one, other):
         """The least of the least dear points at which two different nodes differ."""
         indexes = []
         for level in range(len(self.store.order)):
-            at = self.prices_by(one, other, level).index(self.price(one, other, level))
+            at = self.prices_by(one, other, level).index(self.least_price(one, other, level))
             indexes.append(at)
             one = self.store.child(one, level, at)
             other = self.store.child(other, level, at)

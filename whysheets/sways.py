@@ -28,7 +28,7 @@ def sway_of(store, first, level):
     for k, one in enumerate(rows):
         for other in rows[k + 1:]:
             # Each of the two numbers can stand in the place of the other.
-            total += 2 * tally.counts(unlike(store, one, other), 0).get(1, 0)
+            total += 2 * tally.counts_behind(unlike(store, one, other), 0).get(1, 0)
     return total
 
 

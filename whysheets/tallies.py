@@ -13,7 +13,7 @@ class Tally:
         self.weights = weights
         self.made = {}
 
-    def counts(self, number, level):
+    def counts_behind(self, number, level):
         """The dict from the worths behind a node to the weights of their points of the levels from one on."""
         factor = 1
         for one in range(level, self.store.levels[number]):
@@ -29,7 +29,7 @@ class Tally:
             level = self.store.levels[number]
             found = {}
             for at, child in enumerate(self.store.bodies[number]):
-                part = self.counts(child, level + 1)
+                part = self.counts_behind(child, level + 1)
                 for worth in part:
                     found[worth] = found.get(worth, 0) + part[worth] * self.weights[level][at]
             self.made[number] = found
