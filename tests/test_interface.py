@@ -66,12 +66,32 @@ INTERFACE = {
     "opponents": {"is_opponent": "sheet box spot prices sides price thing", "opponent": "sheet box spot prices sides"},
     "grounds": {"cheapest_grounds": "sheet point spot prices"},
     "inquiry": {},
+    "hands": {"is_plan": "sheet point game prices wish price thing", "is_spoiler": "sheet point game prices wish price thing",
+              "sure": "sheet point game prices wish", "spoiler": "sheet point game prices wish price"},
+    "grips": {"is_grip": "sheet names wish group", "is_lock": "sheet names wish group", "grips": "sheet names wish",
+              "locks": "sheet names wish"},
+    "courses": {"is_course": "sheet spot game side thing", "due": "sheet spot game weights side course",
+                "stakes": "sheet spot game weights"},
+    "matches": {},
+    "wishes": {"granted": "sheet point wishes", "repair": "sheet point box prices wishes"},
+    "quarrels": {"is_quarrel": "sheet box wishes thing", "is_peace": "sheet box wishes thing", "quarrels": "sheet box wishes",
+                 "peaces": "sheet box wishes", "quarrel_within": "sheet box wishes indexes",
+                 "peace_within": "sheet box wishes indexes", "idle_wishes": "sheet box wishes",
+                 "peace_point": "sheet box wishes indexes", "cheapest_peace": "sheet box wishes weights",
+                 "bar": "sheet box wishes weights", "is_bar": "sheet box wishes weights limit thing", "blame": "sheet box wishes"},
+    "bargains": {"bargains": "sheet point box prices wishes weights", "tradeoff": "sheet point box prices wishes weights limit",
+                 "front_paper": "sheet point box prices wishes weights",
+                 "is_front_paper": "sheet point box prices wishes weights found thing"},
+    "edits": {"is_edit": "thing", "edited": "sheet edits", "inverse": "sheet edits"},
+    "differences": {"difference": "old new", "distance": "old new"},
 }
 # The classes of the interface, each with its methods.
 CLASSES = {
     "inquiry": {"Inquiry": {"__init__": "sheet spot prices sides", "ask": "question answer", "undo": "", "box": "",
                             "told": "", "spent": "", "left": "", "cost": "question", "next_question": "",
                             "is_known": "", "worth": ""}},
+    "matches": {"Match": {"__init__": "sheet point game prices wish", "put": "number", "undo": "", "position": "",
+                          "owner": "", "paid": "", "left": "", "best": ""}},
 }
 
 

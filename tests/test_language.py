@@ -18,13 +18,13 @@ STATEMENTS = (ast.FunctionDef, ast.ClassDef, ast.Return, ast.Assign, ast.AugAssi
 EXPRESSIONS = (ast.BoolOp, ast.BinOp, ast.UnaryOp, ast.Lambda, ast.IfExp, ast.Dict, ast.ListComp, ast.DictComp,
                ast.Compare, ast.Call, ast.Constant, ast.Attribute, ast.Subscript, ast.Name, ast.List, ast.Tuple,
                ast.Slice)
-SIGNS = (ast.Add, ast.Sub, ast.Mult, ast.FloorDiv, ast.Mod, ast.BitAnd, ast.BitOr, ast.LShift, ast.Invert, ast.USub, ast.Not, ast.And, ast.Or, ast.Eq, ast.NotEq,
+SIGNS = (ast.Add, ast.Sub, ast.Mult, ast.FloorDiv, ast.Mod, ast.BitAnd, ast.BitOr, ast.LShift, ast.RShift, ast.Invert, ast.USub, ast.Not, ast.And, ast.Or, ast.Eq, ast.NotEq,
          ast.Lt, ast.LtE, ast.Gt, ast.GtE, ast.Is, ast.IsNot, ast.In, ast.NotIn)
 OTHERS = (ast.Module, ast.arguments, ast.arg, ast.alias, ast.comprehension, ast.keyword, ast.Load, ast.Store)
 
 BUILTINS = {"len", "range", "enumerate", "zip", "min", "max", "sum", "abs", "sorted", "reversed", "int", "str", "bool",
             "list", "tuple", "dict", "isinstance", "any", "all", "super", "ValueError"}
-METHODS = {"append", "count", "extend", "get", "index", "insert", "isupper", "items", "join", "keys", "pop", "remove",
+METHODS = {"append", "bit_length", "count", "extend", "get", "index", "insert", "isupper", "items", "join", "keys", "pop", "remove",
            "rfind", "setdefault", "startswith", "update", "values"}
 # What may be imported from the library; it is only called.
 LIBRARY = {"math": ("factorial", "gcd")}

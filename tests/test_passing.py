@@ -4,11 +4,14 @@ import copy
 import importlib
 import unittest
 
-from tests import inquiring, turning
+from tests import editing, inquiring, playing, turning, wishing
 from tests.test_forks import LEAST, XY
 from tests.test_interface import INTERFACE
 from tests.test_opponents import GOOD
+from tests.test_courses import COURSE, DRAWN, WEIGHTS
+from tests.test_hands import DEAR, PLAN
 from tests.test_schemes import PLAIN
+from whysheets.bargains import front_paper
 from whysheets.forks import fork_from
 from whysheets.mirrors import mirror_tree
 from whysheets.orders import fewest
@@ -61,6 +64,25 @@ CALLS = {
     "opponents": {"is_opponent": (SHEET, inquiring.WHOLE, "c", PRICES, None, 2, GOOD), "opponent": (SHEET, BOX, "c", PRICES, PRICES)},
     "grounds": {"cheapest_grounds": (SHEET, POINT, "c", PRICES)},
     "inquiry": {},
+    "hands": {"is_plan": (SHEET, POINT, playing.GAME, PRICES, playing.WISH, 4, PLAN), "is_spoiler": (SHEET, POINT, playing.GAME, PRICES, playing.WISH, 2, DEAR),
+              "sure": (SHEET, POINT, playing.GAME, PRICES, playing.WISH), "spoiler": (SHEET, POINT, playing.GAME, PRICES, playing.WISH, 1)},
+    "grips": {"is_grip": (SHEET, ("y", "x"), playing.WISH, ("x",)), "is_lock": (SHEET, ("y", "x"), playing.WISH, ("x",)),
+              "grips": (SHEET, ("y", "x"), playing.WISH), "locks": (SHEET, ("y", "x"), playing.WISH)},
+    "courses": {"is_course": (SHEET, "c", DRAWN, "mine", COURSE), "due": (SHEET, "c", DRAWN, WEIGHTS, "mine", COURSE),
+                "stakes": (SHEET, "c", DRAWN, {"y": (1, 2, 3), "x": (1, 1, 1)})},
+    "matches": {},
+    "wishes": {"granted": (wishing.SHEET, BEGIN, wishing.WISHES), "repair": (wishing.SHEET, BEGIN, wishing.WHOLE, COSTS, wishing.WISHES[:1])},
+    "quarrels": {name: (wishing.SHEET, {"c": (0, 1), "b": (0, 1), "a": (0, 1)}, wishing.WISHES) + more for name, more in
+                 (("is_quarrel", ((0, 1),)), ("is_peace", ((0, 1),)), ("quarrels", ()), ("peaces", ()), ("quarrel_within", ((0, 1, 2),)),
+                  ("peace_within", ((0, 1, 2),)), ("idle_wishes", ()), ("peace_point", ((1,),)), ("cheapest_peace", (wishing.WEIGHTS,)),
+                  ("bar", (wishing.WEIGHTS,)), ("is_bar", (wishing.WEIGHTS, 3, [(0, 1)])), ("blame", ()))},
+    "bargains": {name: (wishing.SHEET, BEGIN, wishing.WHOLE, COSTS, wishing.WISHES, wishing.WEIGHTS) + more for name, more in
+                 (("bargains", ()), ("tradeoff", (2,)), ("front_paper", ()),
+                  ("is_front_paper", ([(0, 5, ())], front_paper(wishing.SHEET, BEGIN, wishing.WHOLE, COSTS, wishing.WISHES, wishing.WEIGHTS))))},
+    "edits": {"is_edit": (("drop", "a"),), "edited": (editing.SHEET, [("drop", "k"), ("range", "m", 0, 1)]),
+              "inverse": (editing.SHEET, [("drop", "k"), ("range", "m", 0, 1)])},
+    "differences": {"difference": (editing.SHEET, editing.SHEET[:2] + (editing.SHEET[2][::-1],)),
+                    "distance": (editing.SHEET, editing.SHEET[:2] + (editing.SHEET[2][::-1],))},
 }
 
 
@@ -109,7 +131,7 @@ class PassingTest(unittest.TestCase):
 
     def test_lists_and_tuples(self):
         """Where a list is expected a tuple will do."""
-        for module in ("turns", "shown", "mirrors", "nearest"):
+        for module in ("turns", "shown", "mirrors", "nearest", "wishes", "quarrels", "bargains", "edits"):
             for name, told in CALLS[module].items():
                 function = getattr(importlib.import_module(f"whysheets.{module}"), name)
                 other = [tuple(one) if isinstance(one, list) else one for one in told]
