@@ -84,6 +84,17 @@ INTERFACE = {
                  "is_front_paper": "sheet point box prices wishes weights found thing"},
     "edits": {"is_edit": "thing", "edited": "sheet edits", "inverse": "sheet edits"},
     "differences": {"difference": "old new", "distance": "old new"},
+    "sessions": {},
+    "lots": {"is_lot": "thing"},
+    "writers": {"changed": "sheet lot", "lot_between": "old new", "breach": "sheet promises",
+                "collision": "sheet promises one other", "joined": "sheet promises one other"},
+    "rests": {"rests": "fork", "lesson": "fork"},
+    "learning": {"learn": "sheet spot order"},
+    "books": {"is_book": "thing", "book_of": "sheet order"},
+    "bits": {"pack": "book", "unpack": "order spots bits", "filled": "order spots bits"},
+    "foretold": {"foretold": "order spots bits point"},
+    "machine": {"read": "order many question bits", "walls_from": "order many bits point"},
+    "desk": {},
 }
 # The classes of the interface, each with its methods.
 CLASSES = {
@@ -92,6 +103,13 @@ CLASSES = {
                             "is_known": "", "worth": ""}},
     "matches": {"Match": {"__init__": "sheet point game prices wish", "put": "number", "undo": "", "position": "",
                           "owner": "", "paid": "", "left": "", "best": ""}},
+    "sessions": {"Session": {"__init__": "sheet point", "sheet": "", "point": "", "worth": "spot", "worths": "", "put": "numbers",
+                             "edit": "edits", "undo": "", "redo": "", "done": "", "undone": ""}},
+    "learning": {"Learner": {"__init__": "order", "wants": "", "answer": "worth", "differs": "point worth", "agrees": "",
+                             "told": "", "copied": ""}},
+    "machine": {"Machine": {"__init__": "order many question", "feed": "bit", "done": "", "answers": "", "depth": "",
+                            "finished": ""}},
+    "desk": {"Desk": {"__init__": "text", "say": "line"}},
 }
 
 

@@ -1,6 +1,7 @@
 """The rules of LANGUAGE.md that can be seen in the code, in the narrow form in which this package keeps to them.
 
-The package uses less than the rules let: no generators, sets, decorators, handlers, f-strings or defaults.
+The package uses less than the rules let: no generators, sets, decorators, f-strings or defaults, and no handlers but those
+that catch one own error each.
 """
 
 import ast
@@ -10,11 +11,13 @@ import unittest
 import warnings
 from pathlib import Path
 
+from whysheets import errors
+
 PACKAGE = Path(__file__).resolve().parent.parent / "whysheets"
 FILES = sorted(PACKAGE.glob("*.py"))
 
 STATEMENTS = (ast.FunctionDef, ast.ClassDef, ast.Return, ast.Assign, ast.AugAssign, ast.For, ast.While, ast.If,
-              ast.Raise, ast.ImportFrom, ast.Expr, ast.Pass, ast.Break, ast.Continue)
+              ast.Raise, ast.ImportFrom, ast.Expr, ast.Pass, ast.Break, ast.Continue, ast.Try, ast.ExceptHandler)
 EXPRESSIONS = (ast.BoolOp, ast.BinOp, ast.UnaryOp, ast.Lambda, ast.IfExp, ast.Dict, ast.ListComp, ast.DictComp,
                ast.Compare, ast.Call, ast.Constant, ast.Attribute, ast.Subscript, ast.Name, ast.List, ast.Tuple,
                ast.Slice)
@@ -24,8 +27,8 @@ OTHERS = (ast.Module, ast.arguments, ast.arg, ast.alias, ast.comprehension, ast.
 
 BUILTINS = {"len", "range", "enumerate", "zip", "min", "max", "sum", "abs", "sorted", "reversed", "int", "str", "bool",
             "list", "tuple", "dict", "isinstance", "any", "all", "super", "ValueError"}
-METHODS = {"append", "bit_length", "count", "extend", "get", "index", "insert", "isupper", "items", "join", "keys", "pop", "remove",
-           "rfind", "setdefault", "startswith", "update", "values"}
+METHODS = {"append", "bit_length", "count", "endswith", "extend", "get", "index", "insert", "isupper", "items", "join", "keys",
+           "partition", "pop", "remove", "rfind", "setdefault", "split", "startswith", "update", "values"}
 # What may be imported from the library; it is only called.
 LIBRARY = {"math": ("factorial", "gcd")}
 UNUSED = {"register", "mro", "elements", "open", "input", "law", "version_info", "with_traceback", "add_note",
@@ -141,6 +144,12 @@ class LanguageTest(unittest.TestCase):
                     self.assertIsNone(node.returns)
                 if isinstance(node, ast.Constant):
                     self.assertTrue(node.value is None or isinstance(node.value, (bool, int, str)))
+                if isinstance(node, ast.Try):
+                    self.assertEqual((node.orelse, node.finalbody), ([], []))
+                if isinstance(node, ast.ExceptHandler):
+                    self.assertIsNone(node.name)
+                    self.assertIsInstance(node.type, ast.Name)
+                    self.assertTrue(issubclass(getattr(errors, node.type.id), errors.SheetError))
                 if isinstance(node, (ast.For, ast.While)):
                     self.assertEqual(node.orelse, [])
                 if isinstance(node, ast.Raise):

@@ -4,7 +4,7 @@ import copy
 import importlib
 import unittest
 
-from tests import editing, inquiring, playing, turning, wishing
+from tests import editing, inquiring, packing, playing, turning, wishing, writing
 from tests.test_forks import LEAST, XY
 from tests.test_interface import INTERFACE
 from tests.test_opponents import GOOD
@@ -83,6 +83,18 @@ CALLS = {
               "inverse": (editing.SHEET, [("drop", "k"), ("range", "m", 0, 1)])},
     "differences": {"difference": (editing.SHEET, editing.SHEET[:2] + (editing.SHEET[2][::-1],)),
                     "distance": (editing.SHEET, editing.SHEET[:2] + (editing.SHEET[2][::-1],))},
+    "sessions": {},
+    "lots": {"is_lot": (writing.ONE,)},
+    "writers": {"changed": (writing.SHEET, writing.ONE), "lot_between": (writing.SHEET, editing.SHEET[:1] + writing.SHEET[1:2] + (writing.SHEET[2][::-1],)),
+                "breach": (writing.SHEET, ["ok"]), "collision": (writing.SHEET, ["ok"], writing.ONE, writing.OTHER),
+                "joined": (writing.SHEET, ["ok"], writing.ONE, ())},
+    "rests": {"rests": (LEAST,), "lesson": (LEAST,)},
+    "learning": {"learn": (SHEET, "c", XY)},
+    "books": {"is_book": (packing.BOOK,), "book_of": (SHEET, XY)},
+    "bits": {"pack": (packing.BOOK,), "unpack": (XY, ["c"], packing.BITS), "filled": (XY, ["c"], packing.BITS[:5])},
+    "foretold": {"foretold": (XY, ["c"], packing.BITS[:5], POINT)},
+    "machine": {"read": (XY, 1, ("nearest", POINT, PRICES), packing.BITS), "walls_from": (XY, 1, packing.BITS, POINT)},
+    "desk": {},
 }
 
 
@@ -131,7 +143,8 @@ class PassingTest(unittest.TestCase):
 
     def test_lists_and_tuples(self):
         """Where a list is expected a tuple will do."""
-        for module in ("turns", "shown", "mirrors", "nearest", "wishes", "quarrels", "bargains", "edits"):
+        for module in ("turns", "shown", "mirrors", "nearest", "wishes", "quarrels", "bargains", "edits", "writers", "bits",
+                       "foretold", "machine"):
             for name, told in CALLS[module].items():
                 function = getattr(importlib.import_module(f"whysheets.{module}"), name)
                 other = [tuple(one) if isinstance(one, list) else one for one in told]

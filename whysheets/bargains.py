@@ -20,8 +20,8 @@ class Dealing:
 
     def __init__(self, frame, point, box, prices, wishes, weights):
         self.frame = frame
-        self.point = point
-        self.box = box
+        self.begin = point
+        self.goal = box
         self.prices = prices
         self.weights = weights
         self.granting = Granting(frame, wishes)
@@ -35,9 +35,9 @@ class Dealing:
     def bargains(self):
         """The list of the triples of price, weight and way of which nothing is better, prices ascending."""
         known = {}
-        for other in points_of(self.box):
-            key = (dear(self.point, self.prices, other), self.given_up(other))
-            way = way_between(self.point, other)
+        for other in points_of(self.goal):
+            key = (dear(self.begin, self.prices, other), self.given_up(other))
+            way = way_between(self.begin, other)
             known[key] = min(way, known.get(key, way))
         found = []
         for price, weight in sorted(known):
@@ -47,19 +47,19 @@ class Dealing:
 
     def least_price(self, box):
         """The least price of a way to a point of a box."""
-        return least_dear(self.point, self.prices, box)
+        return least_dear(self.begin, self.prices, box)
 
     def is_bargain(self, thing):
         """Whether any value is a triple of the price of a way to the box, the weight that it gives up, and the way."""
         if not is_tuple_of(thing, 3) or not is_number(thing[0]) or not is_number(thing[1]):
             return False
         price, weight, way = thing
-        if not is_lot_at(self.frame, self.point, way) or not is_way(way):
+        if not is_lot_at(self.frame, self.begin, way) or not is_way(way):
             return False
-        other = point_behind(self.point, way)
-        if not all([other[name] in self.box[name] for name in other]):
+        other = point_behind(self.begin, way)
+        if not all([other[name] in self.goal[name] for name in other]):
             return False
-        return price == price_of(self.point, self.prices, way) and weight == self.given_up(other)
+        return price == price_of(self.begin, self.prices, way) and weight == self.given_up(other)
 
     def front(self, found, box):
         """A front paper for the bargains over a box within the box."""

@@ -19,7 +19,7 @@ def both_lists(turning, most):
     """The lists of all least turns and all least walls; BadMost, TooMany if one has more than most."""
     if not is_number_from(most, 1, GREATEST_MOST):
         raise BadMost("no number from 1 to 200")
-    turns = least_turns(turning, all_moves(turning.frame, turning.point))
+    turns = least_turns(turning, all_moves(turning.frame, turning.begin))
     if len(turns) > most:
         raise TooMany(most)
     walls = least_hits(turns, most)
@@ -119,6 +119,6 @@ def roomiest(sheet, point, wishes, most):
 def count_beside(turning, lot):
     """How many points the box beside a lot has."""
     count = 1
-    for numbers in list(box_without(turning.frame, turning.point, lot).values()):
+    for numbers in list(box_without(turning.frame, turning.begin, lot).values()):
         count = count * len(numbers)
     return count

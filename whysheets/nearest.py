@@ -31,8 +31,8 @@ def nearest(sheet, point, wishes, prices):
 
 def priced_turns(turning, prices):
     """The ascending list of the pairs of the price and the turn of all least turns."""
-    turns = least_turns(turning, all_moves(turning.frame, turning.point))
-    return sorted([(price_of(turning.point, prices, turn), turn) for turn in turns])
+    turns = least_turns(turning, all_moves(turning.frame, turning.begin))
+    return sorted([(price_of(turning.begin, prices, turn), turn) for turn in turns])
 
 
 def nearest_many(sheet, point, wishes, prices, many):

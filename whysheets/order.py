@@ -51,15 +51,21 @@ def kept(sheet, names):
     frame = sound_frame(sheet)
     if not are_cell_names(frame, names):
         raise BadNames("no list of different names of cells")
+    return ("sheet", sheet[1], kept_cells(frame, names))
+
+
+def kept_cells(frame, names):
+    """The tuple of the cells of some names and of those whose names stand in them."""
+    cells = frame.sheet[2]
     steps = {}
-    for cell in sheet[2]:
+    for cell in cells:
         steps[cell[1]] = [name for name in names_in(cell) if frame.things[name][0] != "input"]
     needed = {}
     for name in names:
         needed[name] = True
         for one in reached_from(name, steps):
             needed[one] = True
-    return ("sheet", sheet[1], tuple([cell for cell in sheet[2] if cell[1] in needed]))
+    return tuple([cell for cell in cells if cell[1] in needed])
 
 
 def are_cell_names(frame, thing):

@@ -18,7 +18,6 @@ class Quarrelling:
 
     def __init__(self, frame, box, wishes):
         self.granting = Granting(frame, wishes)
-        self.box = box
         self.count = len(wishes)
         self.met = self.granting.lots_over(box)
 

@@ -68,8 +68,8 @@ def is_by_move(turning, lot, thing):
         return False
     for move, other in thing.items():
         # True would be equal to 1, but is no number.
-        if not is_move(turning.frame, turning.point, move) or move not in lot:
+        if not is_move(turning.frame, turning.begin, move) or move not in lot:
             return False
-        if not is_lot_at(turning.frame, turning.point, other) or met_moves(lot, other) != [move]:
+        if not is_lot_at(turning.frame, turning.begin, other) or met_moves(lot, other) != [move]:
             return False
     return True

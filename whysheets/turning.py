@@ -15,7 +15,7 @@ class Turning:
 
     def __init__(self, frame, point, wishes):
         self.frame = frame
-        self.point = point
+        self.begin = point
         # The points that break this claim are those that grant all the wishes.
         self.case = case_of(frame, (tuple(wishes), None))
 
@@ -42,7 +42,7 @@ def want_wishes(frame, wishes):
 
 def grants(turning, way):
     """Whether all wishes are granted behind a way."""
-    return turning.case.breaks_at(point_behind(turning.point, way))
+    return turning.case.breaks_at(point_behind(turning.begin, way))
 
 
 def does_turn(turning, lot):
@@ -52,7 +52,7 @@ def does_turn(turning, lot):
 
 def does_shut(turning, lot):
     """Whether no way without any move of a lot is a turn."""
-    return breaking_point(turning.case, box_without(turning.frame, turning.point, lot)) is None
+    return breaking_point(turning.case, box_without(turning.frame, turning.begin, lot)) is None
 
 
 def ways_of(turning, lot):

@@ -1,0 +1,51 @@
+"""Books: the forks of several spots over one order."""
+
+from whysheets.forks import is_fork, is_order
+from whysheets.frames import spot_key
+from whysheets.growing import grown_at_spot
+from whysheets.making import want_order
+from whysheets.nodes import Store, written
+from whysheets.tables import Table
+from whysheets.values import is_number_from, is_rising, is_tuple_of
+from whysheets.wanting import sound_frame
+from whysheets.words import is_name
+
+MOST_PAGES = 400
+
+
+def is_book(thing):
+    """Whether any value is a book."""
+    if not is_tuple_of(thing, 3) or not isinstance(thing[0], str) or thing[0] != "book" or not is_order(thing[1]):
+        return False
+    pages = thing[2]
+    if not isinstance(pages, tuple) or not all([is_tuple_of(page, 2) for page in pages]):
+        return False
+    if not are_spots([page[0] for page in pages]):
+        return False
+    return all([is_fork(page[1]) and page[1][1] == thing[1] for page in pages])
+
+
+def are_spots(things):
+    """Whether a list has 1 to 400 different spots of pages, names ahead of pairs, both ascending."""
+    if not 1 <= len(things) <= MOST_PAGES or not all([is_page_spot(one) for one in things]):
+        return False
+    return is_rising([spot_key(one) for one in things])
+
+
+def is_page_spot(thing):
+    """Whether any value is a name or a pair of a name and a number from 1 to 9."""
+    return is_name(thing) or is_tuple_of(thing, 2) and is_name(thing[0]) and is_number_from(thing[1], 1, 9)
+
+
+def book_of(sheet, order):
+    """The book with a page for each spot of a cell."""
+    frame = sound_frame(sheet)
+    want_order(frame, order)
+    rows = [list(range(low, high + 1)) for _, low, high in order]
+    inputs = [thing[1] for thing in sheet[1]]
+    pages = []
+    for spot in frame.spots:
+        if spot not in inputs:
+            store = Store(order)
+            pages.append((spot, written(store, grown_at_spot(store, Table(frame, (spot,)), rows), order)))
+    return ("book", order, tuple(pages))
