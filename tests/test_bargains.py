@@ -168,6 +168,31 @@ class BargainsTest(unittest.TestCase):
         self.assertGreater(met, 30)
         self.assertGreater(changes, 100)
 
+    def test_for_which_lists_there_is_a_paper(self):
+        """There is one exactly if for each bargain the list has a triple with at most its price and at most its weight."""
+        met = {True: 0, False: 0}
+        for seed in range(200, 320):
+            maker, passed = deal(seed)
+            told = Deals(*passed)
+            found = [one for one in told.ways if maker.chance(2)][:6] + [one for one in told.bargains() if not maker.chance(4)]
+            box = passed[2]
+            # Down to single points nothing is left out that a paper could show.
+            def full(rows, names):
+                if names:
+                    name, rest = names[0], names[1:]
+                    if len(box[name]) == 1:
+                        return full({**rows, name: box[name][0]}, rest)
+                    return ("split", name, tuple(((n,), full({**rows, name: n}, rest)) for n in box[name]))
+                at = told.points.index(rows)
+                price, weight, _ = told.ways[at]
+                unmet = [k for k in range(told.count) if k not in told.granted[at]]
+                let = [k for k, one in enumerate(found) if one[0] <= price and one[1] <= weight]
+                return ("as", let[0] if let else 0, tuple((k, ("point",)) for k in unmet))
+            wanted = all(any(one[0] <= price and one[1] <= weight for one in found) for price, weight, _ in told.bargains())
+            self.assertIs(is_front_paper(*passed, found, full({}, sorted(box))), wanted)
+            met[wanted] += 1
+        self.assertGreater(min(met.values()), 10)
+
     def test_errors(self):
         calls = [lambda *told: bargains(*told), lambda *told: tradeoff(*told, True), lambda *told: front_paper(*told),
                  lambda *told: is_front_paper(*told, None, None)]

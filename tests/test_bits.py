@@ -1,12 +1,11 @@
 import unittest
 
 from tests.making import Odd, odd_values
-from tests.packing import BITS, BOOK, XY, all_bits, bad_orders, bad_spots, bits_of, made_book, spots_of
+from tests.packing import BITS, BOOK, XY, all_bits, bad_orders, bad_spots, bits_of, long, made_book, short, spots_of
 from whysheets.bits import filled, pack, unpack
 from whysheets.books import is_book
 from whysheets.errors import BadBits, BadBook, BadOrder, BadSpots, TooMany
 from whysheets.forks import fork_from
-from whysheets.linking import long_code, short_code
 
 SMALL = (((("x", 0, 1),), ["a"], 13), ((("x", 0, 1), ("y", 2, 2)), ["a", "b"], 12), ((("x", 0, 1), ("y", 0, 1)), ["a"], 13), ((), ["a", "b", ("a", 1)], 13),
          ((("y", 3, 5),), ["a", ("b", 2)], 12))
@@ -25,19 +24,21 @@ class BitsTest(unittest.TestCase):
         self.assertEqual(unpack(order=XY, spots=("c",), bits=tuple(BITS)), BOOK)
 
     def test_codes(self):
-        self.assertEqual([short_code(k, 5) for k in range(5)], [[0, 0], [0, 1], [1, 0], [1, 1, 0], [1, 1, 1]])
-        self.assertEqual([short_code(k, 4) for k in range(4)], [[0, 0], [0, 1], [1, 0], [1, 1]])
-        self.assertEqual([short_code(k, 3) for k in range(3)], [[0], [1, 0], [1, 1]])
-        self.assertEqual(short_code(0, 1), [])
-        self.assertEqual([long_code(k) for k in range(4)], [[1], [0, 1, 0], [0, 1, 1], [0, 0, 1, 0, 0]])
+        """Behind four leaves a link has five choices, the first one a new leaf."""
+        first = pack(leaves(1, 2, 3, 4))
+        for worth, code in ((None, [0, 0, 1]), (1, [0, 1]), (2, [1, 0]), (3, [1, 1, 0]), (4, [1, 1, 1])):
+            self.assertEqual(pack(leaves(1, 2, 3, 4, worth)), first + code)
+        # Among one there is no bit at all, and long codes of 0, 1, 2, 3 follow.
+        for worth, code in ((None, [1]), (0, [0, 1, 0]), (1, [0, 1, 1]), (-1, [0, 0, 1, 0, 0])):
+            self.assertEqual(pack(leaves(worth)), code)
 
     def test_leaves(self):
         # None, 0, 1, -1, 2, -2, .. are 0, 1, 2, 3, 4, 5, .., less those that are finished.
         for worth, number in ((None, 0), (0, 1), (1, 2), (-1, 3), (2, 4), (-2, 5), (10 ** 12, 2 * 10 ** 12)):
-            self.assertEqual(pack(leaves(worth)), long_code(number))
-        self.assertEqual(pack(leaves(0, None, 1)), long_code(1) + [0] + long_code(0) + short_code(0, 3) + long_code(0))
-        self.assertEqual(pack(leaves(5, 5, 5)), long_code(10) + [1, 1])
-        self.assertEqual(pack(leaves(-2, 3, -2)), long_code(5) + [0] + long_code(5) + short_code(1, 3))
+            self.assertEqual(pack(leaves(worth)), long(number))
+        self.assertEqual(pack(leaves(0, None, 1)), long(1) + [0] + long(0) + short(0, 3) + long(0))
+        self.assertEqual(pack(leaves(5, 5, 5)), long(10) + [1, 1])
+        self.assertEqual(pack(leaves(-2, 3, -2)), long(5) + [0] + long(5) + short(1, 3))
 
     def test_made_books(self):
         long = 0

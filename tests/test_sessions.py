@@ -9,7 +9,6 @@ from whysheets.errors import (BadEdits, BadNumbers, BadPoint, BadSheet, BadSpot,
 from whysheets.order import knots, order_of
 from whysheets.plain import looked_at, worth, worths
 from whysheets.sessions import Session
-from whysheets.shapes import names_in
 from whysheets.texts import read_sheet
 
 POINT = {"m": 1, "n": 0}
@@ -27,6 +26,18 @@ def cell_of(sheet, spot):
 
 def counts_of(sheet):
     return {cell[1]: cell[2] for cell in sheet[2] if cell[0] == "row"}
+
+
+def names_in(expression):
+    """All names that stand in an expression."""
+    found = [expression[1]] if expression[0] in ("name", "item", "at", "sum", "fewest", "most") else []
+    for part in expression[1:]:
+        if isinstance(part, tuple) and part and isinstance(part[0], str):
+            found += names_in(part)
+        elif isinstance(part, tuple):
+            for _, inner in part:
+                found += names_in(inner)
+    return found
 
 
 def anew(old, ahead, new, behind):

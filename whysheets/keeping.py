@@ -1,12 +1,13 @@
 """Whether sheets keep promises."""
 
+from whysheets.boxes import whole_of
+from whysheets.claiming import case_of
 from whysheets.errors import BadPromises
 from whysheets.faults import faults_of
 from whysheets.frames import Frame, word_of
 from whysheets.kinding import TRUTH, kind_of_thing
 from whysheets.making import all_numbers
 from whysheets.order import kept_cells
-from whysheets.tables import Table
 from whysheets.texts import sheet_text
 from whysheets.values import is_list
 from whysheets.words import is_name
@@ -49,12 +50,15 @@ class Keeping:
 
 def breaking_numbers(frame, name):
     """The numbers, in the order of the inputs, of the least point at which a cell is not 1; None if there is none."""
-    table = Table(frame, (name,))
+    case = case_of(frame, (((name, (1,), False),), None))
+    # Often the stretch over all points tells it at once.
+    if case.is_right_leaf("bounds", whole_of(frame)):
+        return None
     rows = []
     for _, one, low, high in frame.sheet[1]:
-        rows.append(list(range(low, (high if one in table.steps.names else low) + 1)))
+        rows.append(list(range(low, (high if one in case.table.steps.names else low) + 1)))
     for numbers in all_numbers(rows):
         point = {thing[1]: numbers[k] for k, thing in enumerate(frame.sheet[1])}
-        if table.worths_at(point)[0] != 1:
+        if case.breaks_at(point):
             return numbers
     return None
