@@ -59,6 +59,16 @@ class DifferencesTest(unittest.TestCase):
         self.assertEqual(distance(one, other), 3)
         self.assertEqual(edited(one, difference(one, other)), other)
 
+    def test_many_cells_set_rather_than_one_kept(self):
+        """Three cells that are set are worth more than one that could be left as it is, two are worth as much."""
+        for count, many in ((3, 5), (2, 4), (1, 2)):
+            names = "abc"[:count]
+            one = read_sheet("input m from 0 to 1 cell x = 9 " + " ".join(f"cell {name} = 1" for name in names))
+            other = read_sheet("input m from 0 to 1 " + " ".join(f"cell {name} = 2" for name in names) + " cell x = 9")
+            for old, new in ((one, other), (other, one)):
+                self.assertEqual(distance(old, new), many)
+                self.assertEqual(edited(old, difference(old, new)), new)
+
     def test_as_short_as_can_be(self):
         met = {}
         for seed in range(40):

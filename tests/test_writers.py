@@ -115,6 +115,24 @@ class WritersTest(unittest.TestCase):
         gone = ((("gone", "a"),), (("gone", "b"),))
         self.assertEqual(collision(two, [], *gone), gone)
 
+    def test_the_first_of_several_collisions(self):
+        """Of collisions with as many changes the names decide, whatever the changes are."""
+        sheet = read_sheet("input n from 0 to 1 cell a = 1 cell p = 1 cell ok = a + n + p < 6")
+        one = (one_cell("cell a = 3"),)
+        other = (("range", "n", 0, 2), one_cell("cell p = 2"))
+        self.assertEqual(collision(sheet, PROMISES, one, other), (one, other[:1]))
+        self.assertEqual(collision(sheet, PROMISES, other, one), (other[:1], one))
+        # The fewest changes of the first lot go ahead of names.
+        sheet = read_sheet("input n from 0 to 1 cell a = 1 cell p = 1 cell ok = a + p < 7 or 1 < n")
+        one = (one_cell("cell a = 3"), one_cell("cell b = 1"))
+        other = (one_cell("cell p = 4"),)
+        self.assertEqual(collision(sheet, PROMISES, one, other), (one[:1], other))
+        sheet = read_sheet("input n from 0 to 1 cell a = 0 cell b = 0 cell p = 0 cell q = 0 cell ok = not (a + b == 2 and p == 1) and not (a == 1 and p + q == 2)")
+        one = (one_cell("cell a = 1"), one_cell("cell b = 1"))
+        other = (one_cell("cell p = 1"), one_cell("cell q = 1"))
+        self.assertEqual(collision(sheet, PROMISES, one, other), (one[:1], other))
+        self.assertEqual(collision(sheet, PROMISES, other, one), (other[:1], one))
+
     def test_made_writers(self):
         joins = clashes = smaller = 0
         for seed in range(300):

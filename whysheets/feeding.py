@@ -20,10 +20,6 @@ class Feeding:
         # The questions that are begun and not finished: pairs of a level and a list of children.
         self.begun = []
         self.pages = []
-        self.in_leaf = False
-        self.value = 0
-        self.count = 0
-        self.choices = 0
         self.begin_link()
 
     def copied(self):
@@ -79,7 +75,7 @@ class Feeding:
     def take_of_leaf(self, bit):
         """Reads a bit of the number of a new leaf's worth; it has one 0 less than there are digits."""
         self.value = 2 * self.value + bit
-        if self.value > 0 and self.count == 2 * self.zeros() + 1:
+        if self.count == 2 * self.zeros() + 1:
             self.deliver(self.linking.finish_leaf(self.linking.leaf_worth(self.value - 1)))
 
     def zeros(self):

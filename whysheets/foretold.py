@@ -36,7 +36,7 @@ def told_of_page(feeding, indexes):
             ahead = feeding.copied()
             begin = go_on_until(ahead, len(feeding.pages), depth + 1, at)
             return two_leaves(ahead, begin)
-    return told_of_leaf(feeding) if feeding.in_leaf else told_of_link(feeding, indexes)
+    return parted_by_leaf(feeding, [], []) if feeding.in_leaf else told_of_link(feeding, indexes)
 
 
 def go_on_until(ahead, page, depth, at):
@@ -58,7 +58,12 @@ def is_next(ahead, page, depth, at):
 def two_leaves(ahead, begin):
     """The pair of lists of bits with two new leaves at the link that comes next."""
     choice = [] if ahead.in_leaf else short_code(0, ahead.choices)
-    return parted(ahead, begin, choice + [1], choice + [0, 1, 0])
+    return parted_by_leaf(ahead, begin, choice)
+
+
+def parted_by_leaf(feeding, begin, choice):
+    """Two new leaves: whichever bit comes next of a new leaf's number, it leads to other worths than the other one."""
+    return parted(feeding, begin, choice + [0], choice + [1])
 
 
 def parted(feeding, begin, one, other):
@@ -74,24 +79,12 @@ def finished_by_ones(feeding, more):
     return more + [1] * ones_to_end(ahead)
 
 
-def told_of_leaf(feeding):
-    """What is told where the number of a new leaf is being read: two numbers are still open."""
-    zeros = feeding.zeros()
-    if feeding.value > 0:
-        left = 2 * zeros + 1 - feeding.count
-        return parted(feeding, [], [0] * left, [1] * left)
-    if zeros == 0:
-        return parted(feeding, [], [1], [0, 1, 0])
-    return parted(feeding, [], [1] + [0] * zeros, [1] + [0] * (zeros - 1) + [1])
-
-
 def told_of_link(feeding, indexes):
     """What is told where the link that counts is being read."""
     first, last = open_choices(feeding)
     places = len(feeding.linking.new_places(feeding.below()))
     if first == 0:
-        rest = rest_of_code(feeding, 0)
-        return parted(feeding, [], rest + [1], rest + [0, 1, 0])
+        return parted_by_leaf(feeding, [], rest_of_code(feeding, 0))
     if first <= places:
         return told_of_question(feeding, first, indexes)
     worths = []

@@ -62,9 +62,10 @@ class Linking:
     def copied(self):
         """Another one with the same finished nodes."""
         other = Linking(self.order)
-        other.store.levels.extend(self.store.levels)
-        other.store.bodies.extend(self.store.bodies)
-        other.store.numbers.update({key: self.store.numbers[key] for key in self.store.numbers})
+        store = other.store
+        store.levels = list(self.store.levels)
+        store.bodies = list(self.store.bodies)
+        store.numbers = {key: self.store.numbers[key] for key in self.store.numbers}
         other.deeper = [list(row) for row in self.deeper]
         other.ranks = [{number: row[number] for number in row} for row in self.ranks]
         other.lasts = {key: list(self.lasts[key]) for key in self.lasts}

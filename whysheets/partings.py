@@ -27,17 +27,20 @@ def want_two(fork, other):
 
 def parting_in(store, one, other):
     """The least point at which the worths of two nodes of a store differ; None if they are the same node."""
-    if one == other:
-        return None
-    indexes = []
-    for level in range(len(store.order)):
+    return None if one == other else order_point(store.order, parting_indexes(store, one, other, 0))
+
+
+def parting_indexes(store, one, other, begin):
+    """The least indexes from a level on behind which two different nodes lead to different worths."""
+    found = []
+    for level in range(begin, len(store.order)):
         at = 0
         while store.child(one, level, at) == store.child(other, level, at):
             at += 1
-        indexes.append(at)
+        found.append(at)
         one = store.child(one, level, at)
         other = store.child(other, level, at)
-    return order_point(store.order, indexes)
+    return tuple(found)
 
 
 def nearest_parting(fork, other, point, prices):

@@ -85,24 +85,23 @@ def quarrel_within(sheet, box, wishes, indexes):
     """What is left of a quarrel when, from the last index on, all are taken out that it does not need."""
     told = quarrelling_of(sheet, box, wishes)
     want_indexes(indexes, told.count)
-    lot = bits_of(indexes)
-    if not told.does_quarrel(lot):
-        return None
-    for k in indexes[::-1]:
-        if told.does_quarrel(lot - (1 << k)):
-            lot -= 1 << k
-    return indexes_in(lot)
+    return left_within([told.does_quarrel(lot) for lot in told.granting.all_lots()], indexes)
 
 
 def peace_within(sheet, box, wishes, indexes):
     """What is left of a peace when, from the last index on, all are taken out that it does not need."""
     told = quarrelling_of(sheet, box, wishes)
     want_indexes(indexes, told.count)
+    return left_within([told.makes_peace(lot) for lot in told.granting.all_lots()], indexes)
+
+
+def left_within(is_one, indexes):
+    """What is left of indexes, given for each lot whether it is one; None if they are none."""
     lot = bits_of(indexes)
-    if not told.makes_peace(lot):
+    if not is_one[lot]:
         return None
     for k in indexes[::-1]:
-        if told.makes_peace(lot - (1 << k)):
+        if is_one[lot - (1 << k)]:
             lot -= 1 << k
     return indexes_in(lot)
 

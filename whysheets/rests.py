@@ -2,6 +2,7 @@
 
 from whysheets.forks import want_fork
 from whysheets.nodes import Store, size_at, stored
+from whysheets.partings import parting_indexes
 from whysheets.tallies import order_point
 
 
@@ -59,23 +60,10 @@ def parting_tests(store, numbers, depth):
     tests = []
     while len(groups) < len(numbers):
         group = [one for one in groups if len(one) > 1][0]
-        test = parting_test(store, group[0], group[1], depth)
+        test = parting_indexes(store, group[0], group[1], depth)
         tests.append(test)
         groups = [part for one in groups for part in parted_by(store, one, depth, test)]
     return tests
-
-
-def parting_test(store, one, other, depth):
-    """The indexes from a depth on behind which two different nodes lead to different worths."""
-    found = []
-    for level in range(depth, len(store.order)):
-        at = 0
-        while store.child(one, level, at) == store.child(other, level, at):
-            at += 1
-        found.append(at)
-        one = store.child(one, level, at)
-        other = store.child(other, level, at)
-    return tuple(found)
 
 
 def parted_by(store, numbers, depth, test):
