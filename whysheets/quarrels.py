@@ -141,8 +141,9 @@ def bar(sheet, box, wishes, weights):
     told = quarrelling_of(sheet, box, wishes)
     want_weights(weights, told.count)
     limit = lightest(told, weights)[0]
-    left = told.least_quarrels()
-    for one in left[::-1]:
+    least = told.least_quarrels()
+    left = least
+    for one in least[::-1]:
         others = [other for other in left if other != one]
         left = others if does_bar(told, weights, limit, others) else left
     return left
