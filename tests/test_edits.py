@@ -89,6 +89,10 @@ class EditsTest(unittest.TestCase):
             with self.assertRaises(Faulty) as caught:
                 function(SHEET, [("drop", "a")])
             self.assertEqual(caught.exception.fault, ((2, 0, 3, 1), "unknown", "a"))
+            # What has no place goes ahead of the faults of the last sheet.
+            with self.assertRaises(NoPlace) as caught:
+                function(SHEET, [("drop", "a"), ("drop", "nothing")])
+            self.assertEqual(caught.exception.at, 1)
             with self.assertRaises(Faulty) as caught:
                 function(SHEET, [("set", ("cell", "a", ("name", "b"))), ("range", "m", 0, 0)])
             self.assertEqual(caught.exception.fault, faults(edited_by(SHEET, ("set", ("cell", "a", ("name", "b")))))[0])

@@ -1,7 +1,7 @@
 """Reading the bits of a book, one by one."""
 
 from whysheets.errors import BadBits
-from whysheets.linking import Linking, code_sizes
+from whysheets.linking import Linking, code_sizes, short_code
 from whysheets.nodes import size_at
 from whysheets.values import is_list, is_number_from
 
@@ -142,9 +142,8 @@ def ones_to_end(feeding):
     while not other.is_done():
         if other.is_fresh() and not other.in_leaf and not other.begun and other.linking.deeper[0]:
             # The last choice of a page's link is the last finished node, which changes nothing for the next one.
-            few, short = code_sizes(other.choices)
-            length = few if other.choices - 1 < short else few + 1
-            return count + length * (other.many - len(other.pages))
+            last = short_code(other.choices - 1, other.choices)
+            return count + len(last) * (other.many - len(other.pages))
         other.take(1)
         count += 1
     return count
