@@ -161,7 +161,6 @@ class HandsTest(unittest.TestCase):
                 self.assertIs(is_plan(*passed, None, found[2]), True)
 
     def test_facts(self):
-        less = 0
         as_key = lambda found: float("inf") if found[0] == "spoiled" else found[1]
         for seed in range(600, 680):
             maker, (sheet, point, game, prices, wish) = made_case(seed)
@@ -178,7 +177,6 @@ class HandsTest(unittest.TestCase):
                         self.assertEqual(found, key)
                     elif hands[0] == "mine":
                         self.assertLessEqual(found, key)
-                        less += found < key
             mine = tuple((name, "mine") for name, _ in game)
             found = as_key(sure(sheet, point, mine, prices, wish))
             costs = [sum(prices[name] * abs(one[name] - point[name]) for name in one) for one in all_points(sheet)
@@ -187,7 +185,13 @@ class HandsTest(unittest.TestCase):
             if found > 0:
                 turn = nearest(sheet, point, [wish], prices)
                 self.assertEqual(found, float("inf") if turn is None else turn[0])
-        self.assertGreater(less, 0)
+        # Who sets the last input of two that must be equal has it in hand.
+        sheet = read_sheet("input x from 0 to 1 input y from 0 to 1 cell c = x == y")
+        told = ({"x": 0, "y": 0}, {"x": 1, "y": 2}, ("c", (1,), True))
+        for hand in ("other", "chance"):
+            self.assertEqual(sure(sheet, told[0], (("x", "mine"), ("y", hand)), *told[1:])[0], "spoiled")
+            self.assertEqual(sure(sheet, told[0], (("y", hand), ("x", "mine")), *told[1:])[:2], ("sure", 1))
+            self.assertEqual(sure(sheet, told[0], (("x", hand), ("y", "mine")), *told[1:])[:2], ("sure", 2))
 
     def test_many_points(self):
         names = "abcdefg"

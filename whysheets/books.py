@@ -2,9 +2,8 @@
 
 from whysheets.forks import is_fork, is_order
 from whysheets.frames import spot_key
-from whysheets.growing import grown_at_spot
-from whysheets.making import want_order
-from whysheets.nodes import Store, written
+from whysheets.making import all_numbers, want_order
+from whysheets.nodes import Store, put_together, written
 from whysheets.tables import Table
 from whysheets.values import is_number_from, is_rising, is_tuple_of
 from whysheets.wanting import sound_frame
@@ -41,11 +40,16 @@ def book_of(sheet, order):
     """The book with a page for each spot of a cell."""
     frame = sound_frame(sheet)
     want_order(frame, order)
-    rows = [list(range(low, high + 1)) for _, low, high in order]
     inputs = [thing[1] for thing in sheet[1]]
+    spots = [spot for spot in frame.spots if spot not in inputs]
+    table = Table(frame, tuple(spots))
+    levels = [level for level, triple in enumerate(order) if triple[0] in table.steps.names]
+    worths = []
+    for numbers in all_numbers([list(range(order[level][1], order[level][2] + 1)) for level in levels]):
+        worths.append(table.worths_at({order[level][0]: numbers[k] for k, level in enumerate(levels)}))
     pages = []
-    for spot in frame.spots:
-        if spot not in inputs:
-            store = Store(order)
-            pages.append((spot, written(store, grown_at_spot(store, Table(frame, (spot,)), rows), order)))
+    for k, spot in enumerate(spots):
+        store = Store(order)
+        first = put_together(store, levels, [store.leaf(row[k]) for row in worths])
+        pages.append((spot, written(store, first, order)))
     return ("book", order, tuple(pages))

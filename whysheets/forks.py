@@ -1,7 +1,7 @@
 """Orders, and forks over them: the one form of what comes to the same at all points."""
 
 from whysheets.errors import BadFork, BadOrder, BadPoint, BadWorths, TooMany
-from whysheets.nodes import Store, count_points, size_at, stored, written
+from whysheets.nodes import Store, count_points, put_together, size_at, stored, written
 from whysheets.values import is_list, is_number_from, is_tuple_of, is_worth
 from whysheets.tallies import is_order_point
 from whysheets.words import is_name
@@ -105,11 +105,8 @@ def fork_from(order, worths):
     if not is_list(worths) or len(worths) != count_points(order) or not all([is_worth(one) for one in worths]):
         raise BadWorths("no list of as many worths as there are points")
     store = Store(order)
-    row = [store.leaf(one) for one in worths]
-    for level in range(len(order) - 1, -1, -1):
-        size = size_at(order, level)
-        row = [store.question(level, tuple(row[k:k + size])) for k in range(0, len(row), size)]
-    return written(store, row[0], order)
+    first = put_together(store, list(range(len(order))), [store.leaf(one) for one in worths])
+    return written(store, first, order)
 
 
 def worths_of(fork):

@@ -96,6 +96,14 @@ def count_points(order):
     return count
 
 
+def put_together(store, levels, row):
+    """The node that asks for some ascending levels alone, given the nodes behind all of their numbers, ascending."""
+    for level in levels[::-1]:
+        size = size_at(store.order, level)
+        row = [store.question(level, tuple(row[k:k + size])) for k in range(0, len(row), size)]
+    return row[0]
+
+
 def stored(store, fork):
     """The number that the first node of a fork gets in a store."""
     places = {triple[0]: level for level, triple in enumerate(store.order)}
