@@ -62,7 +62,7 @@ def spot_said(spot):
 
 def knot_said(knot):
     """A knot."""
-    return list_said([cell for cell in knot]) if is_ring(knot) else spot_said(knot)
+    return list_said(list(knot)) if is_ring(knot) else spot_said(knot)
 
 
 def pairs_said(pairs):
